@@ -1,0 +1,1 @@
+"""Rootward: one tree of names, and every way to ask it."""

@@ -1,0 +1,67 @@
+"""The interface: each name is defined in its file, with its arguments, and each method in its class."""
+
+import ast
+import pathlib
+import unittest
+
+PACKAGE = pathlib.Path(__file__).resolve().parent.parent / "rootward"
+
+FUNCTIONS = {
+    "labels": """is_label(value) is_name(value) is_asked(value) name_of(text) show_name(name) is_under(name,other)
+        labels_ahead(name,other) common(one,other) compared(one,other) ordered(names) neighbours(names,name) size(name)
+        first(names) labels_of(length) names_of(size) nth_label(index) label_index(label) label_but(labels)""",
+    "records": """is_kind(value) is_record(value) is_data(kind,value) data_compared(kind,one,other) sets_of(records)
+        records_of(sets) first_unlike(one,other) names_in(record) put_below(records,old,new)""",
+    "zones": "faults(apex,records)",
+    "answers": """source(zone,name) answer(zone,name,kind) answers(zone,name) chase(zone,name,kind) chase_end(zone,name,kind)
+        chase_age(zone,name,kind) reply(zone,name,kind)""",
+    "namesets": """every() nobody() just(names) below(name) under(name) join(one,other) meet(one,other) without(one,other)
+        others(names) put_under(names,name) taken_from(names,name) with_label(names,label) first_in(names)
+        first_apart(one,other) count(names,size) counts(names,most)""",
+}
+
+METHODS = {
+    ("zones", "Zone"): """__init__(apex,records) __len__() __eq__(other) records() sets() set_at(name,kind) has(name) names()
+        cuts() trees() wilds() nearest(name) with_records(records) without(records) with_serial(serial)""",
+    ("namesets", "Names"): "__init__(rows) __len__() __eq__(other) rows() holds(name)",
+}
+
+PROPERTIES = {("zones", "Zone"): ["apex", "serial", "absent_age"]}
+
+
+def told(function, skipped):
+    """Return a function as the lists above tell it."""
+    arguments = function.args
+    plain = [one.arg for one in arguments.args][skipped:]
+    if arguments.posonlyargs or arguments.kwonlyargs or arguments.vararg or arguments.kwarg or arguments.defaults:
+        plain.append("something else")
+    return function.name + "(" + ",".join(plain) + ")"
+
+
+def body_of(word):
+    return ast.parse((PACKAGE / (word + ".py")).read_text()).body
+
+
+class InterfaceTest(unittest.TestCase):
+    def test_functions(self):
+        for word, functions in FUNCTIONS.items():
+            found = [told(one, 0) for one in body_of(word) if isinstance(one, ast.FunctionDef)]
+            for function in functions.split():
+                self.assertIn(function, found)
+
+    def test_methods_and_properties(self):
+        for (word, name), methods in METHODS.items():
+            body = [one for one in body_of(word) if isinstance(one, ast.ClassDef) and one.name == name][0].body
+            defined = [one for one in body if isinstance(one, ast.FunctionDef)]
+            plain = [told(one, 1) for one in defined if one.decorator_list == []]
+            for method in methods.split():
+                self.assertIn(method, plain)
+            marked = [one for one in defined if one.decorator_list != []]
+            self.assertTrue(all([one.decorator_list[0].id == "property" for one in marked]))
+            self.assertEqual(PROPERTIES.get((word, name), []), [one.name for one in marked])
+
+    def test_nothing_is_imported_into_its_file(self):
+        for word, functions in FUNCTIONS.items():
+            imported = [alias.name for one in body_of(word) if isinstance(one, ast.ImportFrom) for alias in one.names]
+            own = [function.split("(")[0] for function in functions.split()]
+            self.assertEqual([], [name for name in own if name in imported])

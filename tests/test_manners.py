@@ -1,0 +1,204 @@
+"""What is passed stays as it was, what comes out is new, and arguments go by their names."""
+
+import copy
+import unittest
+
+from rootward import answers, labels, namesets, records, zones
+from rootward.errors import InvalidName, InvalidNames, InvalidZone, TreeError
+from rootward.namesets import Names, under
+from rootward.zones import Zone
+from tests.samples import NOTHING_AT_ALL, nested, shop_zone, start_at
+
+NET, WWW = ("net",), ("www", "net")
+BASE = [start_at(NET), (NET, "server", 60, ("n",))]
+ADDRS = [(WWW, "addr", 5, 2), (WWW, "addr", 5, 1), (NET, "mail", 6, (1, WWW))]
+SETS = [(WWW, "addr", 5, (1, 2)), (NET, "mail", 6, ((1, WWW),))]
+ROWS = [(False, [("a", 1), ("b", 0)], 0), (True, [("c", 1)], 0)]
+
+
+def calls():
+    """Return a tuple (function, arguments by name) for each function and each method of the six files."""
+    zone, names = shop_zone(), Names(copy.deepcopy(ROWS))
+    rows = [
+        (labels, "is_label", {"value": "a"}), (labels, "is_name", {"value": WWW}), (labels, "is_asked", {"value": WWW}),
+        (labels, "name_of", {"text": "www.net."}), (labels, "show_name", {"name": WWW}),
+        (labels, "is_under", {"name": WWW, "other": NET}), (labels, "labels_ahead", {"name": WWW, "other": NET}),
+        (labels, "common", {"one": WWW, "other": NET}), (labels, "compared", {"one": WWW, "other": NET}),
+        (labels, "ordered", {"names": [WWW, NET, WWW]}), (labels, "neighbours", {"names": [WWW, NET], "name": NET}),
+        (labels, "size", {"name": WWW}), (labels, "first", {"names": [WWW, NET]}), (labels, "labels_of", {"length": 2}),
+        (labels, "names_of", {"size": 5}), (labels, "nth_label", {"index": 40}), (labels, "label_index", {"label": "net"}),
+        (labels, "label_but", {"labels": ["1", "0"]}),
+        (records, "is_kind", {"value": "addr"}), (records, "is_record", {"value": ADDRS[0]}),
+        (records, "is_data", {"kind": "mail", "value": (1, WWW)}),
+        (records, "data_compared", {"kind": "mail", "one": (1, WWW), "other": (1, NET)}),
+        (records, "sets_of", {"records": ADDRS}), (records, "records_of", {"sets": SETS}),
+        (records, "first_unlike", {"one": ADDRS, "other": ADDRS[1:]}), (records, "names_in", {"record": ADDRS[2]}),
+        (records, "put_below", {"records": ADDRS, "old": NET, "new": ("org",)}),
+        (zones, "faults", {"apex": NET, "records": ADDRS}), (zones, "Zone", {"apex": NET, "records": BASE + ADDRS}),
+        (zone, "records", {}), (zone, "sets", {}), (zone, "set_at", {"name": WWW, "kind": "addr"}),
+        (zone, "has", {"name": WWW}), (zone, "names", {}), (zone, "cuts", {}), (zone, "trees", {}), (zone, "wilds", {}),
+        (zone, "nearest", {"name": ("a", "www", "net")}), (zone, "with_records", {"records": [(WWW, "mail", 5, (2, NET))]}),
+        (zone, "without", {"records": [(WWW, "text", 30, "hi")]}), (zone, "with_serial", {"serial": 9}),
+        (answers, "source", {"zone": zone, "name": WWW}), (answers, "answers", {"zone": zone, "name": WWW}),
+        (namesets, "Names", {"rows": ROWS}), (names, "rows", {}), (names, "holds", {"name": ("b", "a")}),
+        (namesets, "every", {}), (namesets, "nobody", {}), (namesets, "just", {"names": [WWW, NET]}),
+        (namesets, "below", {"name": NET}), (namesets, "under", {"name": NET}), (namesets, "others", {"names": names}),
+        (namesets, "put_under", {"names": names, "name": NET}), (namesets, "taken_from", {"names": names, "name": NET}),
+        (namesets, "with_label", {"names": names, "label": "www"}), (namesets, "first_in", {"names": names}),
+        (namesets, "count", {"names": names, "size": 5}), (namesets, "counts", {"names": names, "most": 5})]
+    for word in ["answer", "chase", "chase_end", "chase_age", "reply"]:
+        rows.append((answers, word, {"zone": zone, "name": ("web", "net"), "kind": "addr"}))
+    for word in ["join", "meet", "without", "first_apart"]:
+        rows.append((namesets, word, {"one": names, "other": under(NET)}))
+    return [(getattr(place, word), arguments) for place, word, arguments in rows]
+
+
+def lists_in(value):
+    """Return all lists within lists and tuples, each as often as it stands there."""
+    found = [value] if isinstance(value, list) else []
+    if isinstance(value, (list, tuple)):
+        for part in value:
+            found.extend(lists_in(part))
+    return found
+
+
+def spoil(value):
+    """Change all lists within lists and tuples."""
+    for one in lists_in(value):
+        one.append("spoiled")
+        del one[0]
+
+
+def seen(value):
+    """Return something plain by which an argument or an answer can be compared."""
+    if isinstance(value, Zone):
+        return ("zone", value.apex, value.serial, value.absent_age, value.records(), value.sets(), value.names())
+    if isinstance(value, Names):
+        return ("names", value.rows(), len(value))
+    return copy.deepcopy(value)
+
+
+class MannersTest(unittest.TestCase):
+    def test_every_function_is_called(self):
+        found = set([call.__name__ for call, _ in calls()])
+        for module in [labels, records, zones, answers, namesets]:
+            for word, one in vars(module).items():
+                if getattr(one, "__module__", None) == module.__name__ and not word.startswith(("_", "check_")):
+                    if word not in HELPERS:
+                        self.assertIn(word, found)
+
+    def test_by_position_and_by_name(self):
+        for call, arguments in calls():
+            with self.subTest(call=call.__name__):
+                told = seen(call(*arguments.values()))
+                self.assertEqual(told, seen(call(**arguments)))
+                turned = {word: arguments[word] for word in list(arguments)[::-1]}
+                self.assertEqual(told, seen(call(**turned)))
+
+    def test_arguments_stay_as_they_were(self):
+        for call, arguments in calls():
+            with self.subTest(call=call.__name__):
+                ahead = {word: seen(value) for word, value in arguments.items()}
+                call(**arguments)
+                self.assertEqual(ahead, {word: seen(value) for word, value in arguments.items()})
+
+    def test_what_is_passed_is_not_kept(self):
+        for call, arguments in calls():
+            with self.subTest(call=call.__name__):
+                arguments = {word: copy.deepcopy(value) for word, value in arguments.items()}
+                told = call(**arguments)
+                ahead = seen(told)
+                passed = [id(one) for value in arguments.values() for one in lists_in(value)]
+                self.assertEqual([], [one for one in lists_in(told) if id(one) in passed])
+                for value in arguments.values():
+                    spoil(value)
+                self.assertEqual(ahead, seen(told))
+
+    def test_returned_lists_are_new(self):
+        for call, arguments in calls():
+            with self.subTest(call=call.__name__):
+                told = call(**arguments)
+                ahead = seen(told)
+                again = call(**arguments)
+                each = [id(one) for one in lists_in(told) + lists_in(again)]
+                self.assertEqual(len(each), len(set(each)))
+                spoil(told)
+                self.assertEqual(ahead, seen(again))
+                self.assertEqual(ahead, seen(call(**arguments)))
+
+    def test_objects_stay_as_they_were(self):
+        zone, names = shop_zone(), Names(ROWS)
+        for value in [zone.records(), zone.sets(), zone.names(), zone.cuts(), zone.trees(), zone.wilds(), names.rows()]:
+            spoil(value)
+        self.assertEqual(seen(shop_zone()), seen(zone))
+        self.assertEqual(seen(Names(ROWS)), seen(names))
+        for change in [lambda: zone.with_serial(5), lambda: zone.with_records(BASE[:1]), lambda: zone.without(zone.records()[5:6])]:
+            change()
+            self.assertEqual(seen(shop_zone()), seen(zone))
+        for word in ["apex", "serial", "absent_age"]:
+            with self.assertRaises(AttributeError):
+                setattr(zone, word, 5)
+
+
+class RaisedTest(unittest.TestCase):
+    def failing(self, value):
+        """Return calls that refuse a value."""
+        zone = shop_zone()
+        return [
+            lambda: labels.size(value), lambda: labels.ordered([NET, value]), lambda: labels.label_index(value),
+            lambda: records.names_in(value), lambda: records.sets_of([ADDRS[0], value]), lambda: records.is_data(value, 5),
+            lambda: records.put_below(ADDRS, value, NET), lambda: zones.faults(value, []), lambda: Zone(NET, [value]),
+            lambda: Zone(value, []), lambda: zone.has(value), lambda: zone.set_at(NET, value), lambda: zone.with_serial(value),
+            lambda: zone.without([value]), lambda: zone.with_records([value]), lambda: answers.source(zone, value),
+            lambda: answers.reply(zone, NET, value), lambda: under(value), lambda: namesets.with_label(under(NET), value),
+            lambda: namesets.just([NET, value]), lambda: under(NET).holds(value)]
+
+    def test_values_are_built_anew(self):
+        inner, thing = ["x"], {"k": ["y"]}
+        for value in [[inner, inner, (inner, thing)], (inner, [inner], thing), nested(list, 100), nested(tuple, 100),
+                      [[], [()], ([],)], (("a",), [("b", ["c"])])]:
+            ahead = copy.deepcopy(value)
+            passed = [id(one) for one in lists_in(value)]
+            for call in self.failing(value):
+                with self.assertRaises(TreeError) as caught:
+                    call()
+                told = caught.exception.value
+                self.assertEqual(value, told)
+                each = [id(one) for one in lists_in(told)]
+                self.assertEqual(len(each), len(set(each)))
+                self.assertEqual([], [one for one in each if one in passed])
+                spoil(told)
+                self.assertEqual(ahead, value)
+
+    def test_others_are_stored_as_they_are(self):
+        for value in [{"k": ["y"]}, object(), b"ab", {1, 2}]:
+            for call in self.failing(value):
+                with self.assertRaises(TreeError) as caught:
+                    call()
+                self.assertIs(value, caught.exception.value)
+            with self.assertRaises(InvalidName) as caught:
+                labels.size(("a", [value]))
+            self.assertIs(value, caught.exception.value[1][0])
+
+    def test_lists_of_faults(self):
+        records_passed = [(NET, "alias", 5, NET)]
+        with self.assertRaises(InvalidZone) as caught:
+            Zone(NET, BASE + records_passed)
+        self.assertEqual([(NET, "alias")], caught.exception.value)
+        caught.exception.value.append("spoiled")
+        self.assertEqual([(NET, "alias")], zones.faults(NET, BASE + records_passed))
+
+    def test_arguments_stay_as_they_were(self):
+        for value in NOTHING_AT_ALL:
+            rows, names, given = [ROWS[0], value], [NET, value], BASE + [value]
+            kept = [list(rows), list(names), list(given), copy.deepcopy(ROWS)]
+            with self.assertRaises(InvalidNames):
+                Names(rows)
+            for call in [lambda: labels.ordered(names), lambda: Zone(NET, given), lambda: records.sets_of(given)]:
+                with self.assertRaises(TreeError):
+                    call()
+            self.assertEqual(kept, [rows, names, given, ROWS])
+
+
+HELPERS = [
+    "data_place", "record_place", "key_place", "each_once", "datas_in_order", "sets_of_checked", "unfolded"]
