@@ -44,17 +44,18 @@ def _source(zone, name):
 def answer(zone, name, kind):
     """Return the answer of a zone to a name and a kind."""
     _check_question(zone, name, kind)
-    return _answer_from(zone, name, kind, _source(zone, name))
+    return answer_from(zone, name, kind, _source(zone, name))
 
 
 def answers(zone, name):
     """Return the answers of a zone to a name and each kind, by kinds as texts."""
     _check_asked_of(zone, name)
     decided = _source(zone, name)
-    return [_answer_from(zone, name, kind, decided) for kind in KINDS]
+    return [answer_from(zone, name, kind, decided) for kind in KINDS]
 
 
-def _answer_from(zone, name, kind, decided):
+def answer_from(zone, name, kind, decided):
+    """Return the answer of a zone to a name and a kind of which it is known what decides."""
     word, place = decided
     if word == "cut":
         return _cut_answer(zone, place)
@@ -107,7 +108,7 @@ def _chased(zone, name, kind):
     """Return the list of the steps of a chase, the word of its end, and the name of that."""
     asked = {}
     while True:
-        told = _answer_from(zone, name, kind, _source(zone, name))
+        told = answer_from(zone, name, kind, _source(zone, name))
         asked[name] = told
         if told[0] != "alias" and told[0] != "tree":
             return (list(asked.items()), "told", name)

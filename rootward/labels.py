@@ -157,14 +157,19 @@ def names_of(size):
     """Return the number of names without `*` of a size."""
     if size < 0:
         raise InvalidNumber(size)
+    return numbers_of_names(size)[size]
+
+
+def numbers_of_names(most):
+    """Return the numbers of names without `*` of all sizes from 0 to one."""
     many = [labels_of(length) for length in range(LONGEST + 1)]
     numbers = [0, 1]
-    while len(numbers) <= size:
+    while len(numbers) <= most:
         room = len(numbers) - 1
         # The last label takes its length and 1 more, the labels ahead of it the rest.
         lengths = range(1, min(LONGEST, room) + 1)
         numbers.append(sum([many[length] * numbers[room - length] for length in lengths]))
-    return numbers[size]
+    return numbers[:most + 1]
 
 
 def nth_label(index):

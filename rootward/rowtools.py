@@ -28,27 +28,38 @@ def paired(table, other_table, wanted):
     """Return the rows of a machine that reads two at once.
 
     A name is in if the tuple of whether it is in the one and in the other is one of those that are wanted."""
-    numbers = {(0, 0): 0}
-    pairs = [(0, 0)]
-    rows = []
-    while len(rows) < len(pairs):
-        one, other = pairs[len(rows)]
-        row, other_row = table[one], other_table[other]
-        roads = _paired_roads(row, other_row)
-        behind = (row[2], other_row[2])
-        for pair in [ends for _, ends in roads] + [behind]:
-            if pair not in numbers:
-                numbers[pair] = len(pairs)
-                pairs.append(pair)
-        is_in = (row[0], other_row[0]) in wanted
-        rows.append((is_in, [(label, numbers[pair]) for label, pair in roads], numbers[behind]))
-    return rows
+    return [(told in wanted, roads, other) for told, roads, other in paired_told(table, other_table)]
 
 
-def _paired_roads(row, other_row):
+def paired_told(table, other_table):
+    """Return the rows of a machine that reads two at once, each with the tuple of what the two rows tell first."""
+    def look(pair):
+        return _paired_row(table[pair[0]], other_table[pair[1]])
+    return explored((0, 0), look)
+
+
+def _paired_row(row, other_row):
     roads, other_roads = dict(row[1]), dict(other_row[1])
     labels = sorted({**roads, **other_roads})
-    return [(label, (roads.get(label, row[2]), other_roads.get(label, other_row[2]))) for label in labels]
+    pairs = [(label, (roads.get(label, row[2]), other_roads.get(label, other_row[2]))) for label in labels]
+    return ((row[0], other_row[0]), pairs, (row[2], other_row[2]))
+
+
+def explored(start, look):
+    """Return the rows of the machine of all states that are come to from one.
+
+    To look at a state gives its row, in which all states are told as themselves."""
+    numbers = {start: 0}
+    states = [start]
+    rows = []
+    while len(rows) < len(states):
+        told, roads, other = look(states[len(rows)])
+        for state in [end for _, end in roads] + [other]:
+            if state not in numbers:
+                numbers[state] = len(states)
+                states.append(state)
+        rows.append((told, [(label, numbers[end]) for label, end in roads], numbers[other]))
+    return rows
 
 
 def first_of(table):

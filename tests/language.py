@@ -214,6 +214,23 @@ def check_expressions(text, own):
     return found
 
 
+def check_sets(text):
+    """L24: sets stand after `in`, or directly in `sorted` or `len` without keywords."""
+    tree = ast.parse(text)
+    allowed = set()
+    for node in ast.walk(tree):
+        if isinstance(node, ast.Call) and isinstance(node.func, ast.Name) and node.func.id in ("sorted", "len") and not node.keywords:
+            allowed.update([id(one) for one in node.args[:1]])
+        if isinstance(node, ast.Compare):
+            allowed.update([id(one) for sign, one in zip(node.ops, node.comparators) if isinstance(sign, (ast.In, ast.NotIn))])
+    found = []
+    for node in ast.walk(tree):
+        is_call = isinstance(node, ast.Call) and isinstance(node.func, ast.Name) and node.func.id == "set"
+        if (is_call or isinstance(node, (ast.Set, ast.SetComp))) and id(node) not in allowed:
+            found.append(f"{node.lineno}: a set")
+    return found
+
+
 def cycles(texts):
     """L16: return the files that import one another, of a dict of texts by their names."""
     leads = {}

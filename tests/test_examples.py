@@ -61,7 +61,83 @@ NAMESETS = """
 [True, ('www', '0', 'net'), 2]
 """
 
-EXAMPLES = {"labels": LABELS, "records": RECORDS, "zones": ZONES, "answers": ANSWERS, "namesets": NAMESETS}
+ZONENAMES = """
+>>> from rootward.zonenames import are_alike, by_wild, counted, first_unlike, lean, needless, with_word
+>>> from rootward.zones import Zone
+>>> start, server = ((), "start", 60, (("n",), 1, 2, 3, 4, 50)), ((), "server", 60, ("n",))
+>>> wild = Zone((), [start, server, (("*",), "addr", 60, 5)])
+>>> same = wild.with_records([(("n",), "addr", 60, 5)])
+>>> [first_unlike(wild, same), first_unlike(same, wild.with_records([(("n",), "addr", 60, 5), (("b", "n"), "addr", 60, 5)]))]
+[(('0', 'n'), 'addr', ('found', 60, (5,)), ('absent', 50)), (('b', 'n'), 'addr', ('absent', 50), ('found', 60, (5,)))]
+>>> [counted(wild, "addr", "found", 3), counted(wild, "addr", "empty", 1), needless(same), are_alike(wild, lean(wild)), first_unlike(wild, wild.with_serial(2))]
+[36, 1, [], True, ((), 'start', ('found', 60, ((('n',), 1, 2, 3, 4, 50),)), ('found', 60, ((('n',), 2, 2, 3, 4, 50),)))]
+"""
+
+MOVES = """
+>>> from rootward.moves import Moves, chase, ending, judge_growth, step
+>>> moves = Moves([("tree", ("old",), ("new",)), ("tree", ("x",), ("y", "x")), ("alias", ("a",), ("b",)), ("alias", ("b",), ("a",)), ("tree", ("b", "new"), ())])
+>>> [step(moves, ("old",)), chase(moves, ("k", "b", "old"), 9), ending(moves, ("b", "old")), ending(moves, ("a",)), ending(moves, ("k", "x"))[0]]
+[None, [('k', 'b', 'old'), ('k', 'b', 'new'), ('k',)], ('ends', ('b', 'new'), 1), ('ring', 0, 2), 'grows']
+>>> [judge_growth(moves, ("k", "x"), ("grows", 2, 1, 1)), judge_growth(moves, ("k", "x"), ("grows", 1, 1, 1)), judge_growth(moves, ("k", "x"), ("grows", 5, 2, 2))]
+[True, False, True]
+"""
+
+ALLMOVES = """
+>>> from rootward.allmoves import coming_to, endless, ending_in, first_apart, first_endless, in_rings, longest, longest_name, needless_moves
+>>> from rootward.moves import Moves
+>>> from rootward.namesets import just, join, under, below
+>>> plain = Moves([("tree", ("old",), ("new",)), ("tree", ("new",), ("top", "new2"))])
+>>> [longest(plain), longest_name(plain), first_endless(plain), first_apart(plain, Moves([("tree", ("old",), ("top", "new2")), ("tree", ("new",), ("top", "new2"))]))]
+[2, ('0', 'old'), None, None]
+>>> up = Moves([("tree", ("a",), ()), ("alias", ("r",), ("s", "q")), ("tree", ("q",), ("q",))])
+>>> [longest(up), first_endless(up), in_rings(up) == endless(up), ending_in(up, just([("b",)])).holds(("b", "a", "a")), first_apart(up, Moves([("tree", ("a",), ())]))]
+[None, ('r',), True, True, ('r',)]
+>>> [coming_to(plain, under(("new2",))) == join(under(("new2",)), join(below(("old",)), below(("new",)))), needless_moves(plain)]
+[True, []]
+"""
+
+GAPS = """
+>>> from rootward.gaps import clash, gaps, judge_showing, shown, showing
+>>> from rootward.zones import Zone
+>>> zone = Zone((), [((), "start", 60, (("n",), 1, 2, 3, 4, 50)), ((), "server", 60, ("n",)), (("n",), "addr", 60, 5), (("w", "n"), "text", 60, "hi")])
+>>> [gaps(zone), showing(zone, ("m",), "addr"), showing(zone, ("n",), "text"), showing(zone, ("a", "n"), "addr")]
+[[((), ('n',), ('server', 'start')), (('n',), ('w', 'n'), ('addr',)), (('w', 'n'), (), ('text',))], [((), ('n',), ('server', 'start'))], [(('n',), ('w', 'n'), ('addr',))], [(('n',), ('w', 'n'), ('addr',))]]
+>>> [shown((), [(("w", "n"), (), ("text",))], ("z",), "addr"), shown((), gaps(zone), ("z",), "addr"), showing(zone, ("z",), "addr"), clash((), [((), ("n",), ("start",)), (("m",), (), ())])]
+[None, 'absent', [((), ('n',), ('server', 'start')), (('w', 'n'), (), ('text',))], (0, 1)]
+"""
+
+ALLGAPS = """
+>>> from rootward.allgaps import between, fewest, first_between, first_untold, told
+>>> from rootward.gaps import gaps
+>>> from rootward.zones import Zone
+>>> zone = Zone((), [((), "start", 60, (("n",), 1, 2, 3, 4, 50)), ((), "server", 60, ("n",)), (("n",), "addr", 60, 5), (("w", "n"), "text", 60, "hi")])
+>>> [first_between(("n",), ("o",)), first_between(("a",), ("0", "a")), first_between(("z",), None), between((), ("2",), 3), between(("n",), None, 3)]
+[('n0',), None, ('z0',), 2, 12]
+>>> [first_untold(zone, gaps(zone), "addr"), first_untold(zone, gaps(zone)[:2], "addr"), told(zone, gaps(zone)[:1], "addr", 3), fewest(zone, [("m",), ("a",), ("n",)], "addr")]
+[None, ('o',), 23, [((), ('n',), ('server', 'start'))]]
+"""
+
+CHANGES = """
+>>> from rootward.changes import applies, back, changed
+>>> a, b = ("a",), ("b",)
+>>> book = [(a, "addr", 5, 1), (a, "addr", 5, 2), (b, "text", 9, "x")]
+>>> change = ([("has", a, "addr"), ("free", ("c",))], [("add", (a, "addr", 7, 3)), ("take", a, "addr", 1), ("drop", b)])
+>>> [applies(book, change), changed(book, change), back(book, change), changed(book, ([("free", a)], [("drop", a)])) == changed(book, ([], []))]
+[True, [(('a',), 'addr', 7, (2, 3))], ([], [('take', ('a',), 'addr', 3), ('add', (('a',), 'addr', 5, 1)), ('add', (('b',), 'text', 9, 'x'))]), True]
+"""
+
+SERIALS = """
+>>> from rootward.serials import fewest_steps, further, judge_steps, newer, newest
+>>> half = 2 ** 31
+>>> [newer(1, 0), newer(0, 2 ** 32 - 1), newer(half, 0), newer(0, half), further(2 ** 32 - 1, 2), newest([5, 7, 5]), newest([0, half]), newest([])]
+[True, True, False, False, 1, 7, None, None]
+>>> [fewest_steps(5, 4, 0), fewest_steps(0, half, 0), fewest_steps(0, half, 1), fewest_steps(3, 3, 9), fewest_steps(0, half - 1, 5), judge_steps(0, half, 0, [1, half]), judge_steps(0, half, 1, [1, half])]
+[3, 2, 3, 0, 1, True, False]
+"""
+
+EXAMPLES = {
+    "labels": LABELS, "records": RECORDS, "zones": ZONES, "answers": ANSWERS, "namesets": NAMESETS, "zonenames": ZONENAMES,
+    "moves": MOVES, "allmoves": ALLMOVES, "gaps": GAPS, "allgaps": ALLGAPS, "serials": SERIALS, "changes": CHANGES}
 
 
 class ExamplesTest(unittest.TestCase):

@@ -18,12 +18,26 @@ FUNCTIONS = {
     "namesets": """every() nobody() just(names) below(name) under(name) join(one,other) meet(one,other) without(one,other)
         others(names) put_under(names,name) taken_from(names,name) with_label(names,label) first_in(names)
         first_apart(one,other) count(names,size) counts(names,most)""",
+    "zonenames": """with_word(zone,kind,word) found_with(zone,kind,data) by_wild(zone,name) same_answers(zone,name,kind)
+        counted(zone,kind,word,size) first_unlike(one,other) are_alike(one,other) needless(zone) lean(zone)""",
+    "moves": """moves_of(zones) step(moves,name) chase(moves,name,most) ending(moves,name) judge_growth(moves,name,value)""",
+    "allmoves": """endless(moves) in_rings(moves) growing(moves) coming_to(moves,goal) ending_in(moves,goal) first_endless(moves)
+        longest(moves) longest_name(moves) first_apart(one,other) needless_moves(moves)""",
+    "gaps": """gaps(zone) is_gap(value) shown(apex,gaps,name,kind) showing(zone,name,kind)
+        judge_showing(apex,word,name,kind,value) clash(apex,gaps)""",
+    "allgaps": """first_between(one,other) between(one,other,size) first_untold(zone,gaps,kind) told(zone,gaps,kind,size)
+        fewest(zone,names,kind)""",
+    "serials": """newer(one,other) further(serial,steps) newest(serials) fewest_steps(one,other,missed) steps(one,other,missed)
+        judge_steps(one,other,missed,value)""",
+    "changes": """is_change(value) applies(records,change) changed(records,change) changed_zone(zone,change)
+        back(records,change)""",
 }
 
 METHODS = {
     ("zones", "Zone"): """__init__(apex,records) __len__() __eq__(other) records() sets() set_at(name,kind) has(name) names()
         cuts() trees() wilds() nearest(name) with_records(records) without(records) with_serial(serial)""",
     ("namesets", "Names"): "__init__(rows) __len__() __eq__(other) rows() holds(name)",
+    ("moves", "Moves"): "__init__(moves) __len__() __eq__(other) moves()",
 }
 
 PROPERTIES = {("zones", "Zone"): ["apex", "serial", "absent_age"]}

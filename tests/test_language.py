@@ -42,6 +42,7 @@ class FilesTest(unittest.TestCase):
                 self.assertEqual([], language.check_imports(text))
                 self.assertEqual([], language.check_statements(text))
                 self.assertEqual([], language.check_expressions(text, own))
+                self.assertEqual([], language.check_sets(text))
 
     def test_imports_go_one_way(self):
         self.assertEqual([], language.cycles(files()))
@@ -97,3 +98,9 @@ class ChecksTest(unittest.TestCase):
             self.assertNotEqual([], language.check_expressions("def f(b):\n    return " + row + "\n", []), row)
         for row in ["any([a for a in b])", "1 // 2", "b is None", "2 ** 31", "b.get(1)", "[1 for _ in b]"]:
             self.assertEqual([], language.check_expressions("def f(b):\n    return " + row + "\n", []), row)
+
+    def test_sets(self):
+        for row in ["sorted({a for a in b}, reverse=True)", "set(b)", "[a for a in set(b)]", "f({1, 2})", "list({a for a in b})"]:
+            self.assertNotEqual([], language.check_sets("def f(b):\n    return " + row + "\n"), row)
+        for row in ["sorted({a for a in b})[::-1]", "len(set(b))", "b in {1, 2}", "b not in set(b)", "sorted(set([a for a in b]))"]:
+            self.assertEqual([], language.check_sets("def f(b):\n    return " + row + "\n"), row)

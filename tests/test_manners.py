@@ -3,8 +3,10 @@
 import copy
 import unittest
 
-from rootward import answers, labels, namesets, records, zones
+from rootward import (
+    allgaps, allmoves, answers, changes, gaps, labels, moves, namesets, records, serials, zonenames, zones)
 from rootward.errors import InvalidName, InvalidNames, InvalidZone, TreeError
+from rootward.moves import Moves
 from rootward.namesets import Names, under
 from rootward.zones import Zone
 from tests.samples import NOTHING_AT_ALL, nested, shop_zone, start_at
@@ -14,10 +16,14 @@ BASE = [start_at(NET), (NET, "server", 60, ("n",))]
 ADDRS = [(WWW, "addr", 5, 2), (WWW, "addr", 5, 1), (NET, "mail", 6, (1, WWW))]
 SETS = [(WWW, "addr", 5, (1, 2)), (NET, "mail", 6, ((1, WWW),))]
 ROWS = [(False, [("a", 1), ("b", 0)], 0), (True, [("c", 1)], 0)]
+MOVES = [("tree", ("org",), NET), ("alias", WWW, ("w",)), ("tree", ("x",), ("y", "x"))]
+GAPS = [(NET, WWW, ("server", "start")), (WWW, NET, ())]
+CHANGE = ([("there", WWW), ("just", WWW, "addr", (1, 2))], [("add", (WWW, "addr", 6, 3)), ("drop", NET)])
+MODULES = [labels, records, zones, answers, namesets, zonenames, moves, allmoves, gaps, allgaps, serials, changes]
 
 
 def calls():
-    """Return a tuple (function, arguments by name) for each function and each method of the six files."""
+    """Return a tuple (function, arguments by name) for each function and each method of the files."""
     zone, names = shop_zone(), Names(copy.deepcopy(ROWS))
     rows = [
         (labels, "is_label", {"value": "a"}), (labels, "is_name", {"value": WWW}), (labels, "is_asked", {"value": WWW}),
@@ -50,7 +56,60 @@ def calls():
         rows.append((answers, word, {"zone": zone, "name": ("web", "net"), "kind": "addr"}))
     for word in ["join", "meet", "without", "first_apart"]:
         rows.append((namesets, word, {"one": names, "other": under(NET)}))
+    rows.extend(calls_of_zones(zone) + calls_of_moves(names) + calls_of_serials() + calls_of_changes(zone))
     return [(getattr(place, word), arguments) for place, word, arguments in rows]
+
+
+def calls_of_zones(zone):
+    """Return the calls of zonenames.py, gaps.py and allgaps.py."""
+    other, part = zone.with_serial(3), gaps.gaps(zone)[:5]
+    name = ("q", "www", "net")
+    return [
+        (zonenames, "with_word", {"zone": zone, "kind": "addr", "word": "found"}),
+        (zonenames, "found_with", {"zone": zone, "kind": "mail", "data": (5, ("m",))}),
+        (zonenames, "by_wild", {"zone": zone, "name": ("*", "net")}),
+        (zonenames, "same_answers", {"zone": zone, "name": WWW, "kind": "addr"}),
+        (zonenames, "counted", {"zone": zone, "kind": "addr", "word": "found", "size": 7}),
+        (zonenames, "first_unlike", {"one": zone, "other": other}), (zonenames, "are_alike", {"one": zone, "other": other}),
+        (zonenames, "needless", {"zone": zone}), (zonenames, "lean", {"zone": zone}),
+        (gaps, "gaps", {"zone": zone}), (gaps, "is_gap", {"value": GAPS[0]}),
+        (gaps, "shown", {"apex": NET, "gaps": GAPS, "name": name, "kind": "addr"}),
+        (gaps, "showing", {"zone": zone, "name": name, "kind": "addr"}),
+        (gaps, "judge_showing", {"apex": NET, "word": "absent", "name": name, "kind": "addr", "value": GAPS}),
+        (gaps, "clash", {"apex": NET, "gaps": GAPS + [(NET, ("v", "net"), ())]}),
+        (allgaps, "first_between", {"one": NET, "other": WWW}), (allgaps, "between", {"one": NET, "other": WWW, "size": 7}),
+        (allgaps, "first_untold", {"zone": zone, "gaps": part, "kind": "addr"}),
+        (allgaps, "told", {"zone": zone, "gaps": part, "kind": "text", "size": 7}),
+        (allgaps, "fewest", {"zone": zone, "names": [name, WWW, NET], "kind": "text"})]
+
+
+def calls_of_moves(names):
+    """Return the calls of moves.py and allmoves.py."""
+    book, other = Moves(MOVES), Moves(MOVES[:1])
+    zones_passed = [shop_zone()]
+    rows = [
+        (moves, "Moves", {"moves": MOVES}), (book, "moves", {}), (moves, "moves_of", {"zones": zones_passed}),
+        (moves, "step", {"moves": book, "name": ("a", "org")}), (moves, "chase", {"moves": book, "name": ("www", "org"), "most": 5}),
+        (moves, "ending", {"moves": book, "name": ("k", "x")}),
+        (moves, "judge_growth", {"moves": book, "name": ("k", "x"), "value": ("grows", 5, 1, 4)}),
+        (allmoves, "coming_to", {"moves": book, "goal": names}), (allmoves, "ending_in", {"moves": book, "goal": names}),
+        (allmoves, "first_apart", {"one": book, "other": other})]
+    for word in ["endless", "in_rings", "growing", "first_endless", "longest", "longest_name", "needless_moves"]:
+        rows.append((allmoves, word, {"moves": other if word.startswith("longest") else book}))
+    return rows
+
+
+def calls_of_serials():
+    ends = {"one": 5, "other": 2 ** 31 + 5, "missed": 1}
+    return [
+        (serials, "newer", {"one": 5, "other": 7}), (serials, "further", {"serial": 5, "steps": 7}), (serials, "newest", {"serials": [5, 7]}),
+        (serials, "fewest_steps", ends), (serials, "steps", ends), (serials, "judge_steps", {**ends, "value": serials.steps(**ends)})]
+
+
+def calls_of_changes(zone):
+    rows = [(changes, word, {"records": ADDRS, "change": CHANGE}) for word in ["applies", "changed", "back"]]
+    more = ([], [("add", (WWW, "text", 30, "ho"))])
+    return rows + [(changes, "is_change", {"value": CHANGE}), (changes, "changed_zone", {"zone": zone, "change": more})]
 
 
 def lists_in(value):
@@ -75,13 +134,17 @@ def seen(value):
         return ("zone", value.apex, value.serial, value.absent_age, value.records(), value.sets(), value.names())
     if isinstance(value, Names):
         return ("names", value.rows(), len(value))
+    if isinstance(value, Moves):
+        return ("moves", value.moves(), len(value))
+    if value and isinstance(value, list) and isinstance(value[0], Zone):
+        return [seen(one) for one in value]
     return copy.deepcopy(value)
 
 
 class MannersTest(unittest.TestCase):
     def test_every_function_is_called(self):
         found = set([call.__name__ for call, _ in calls()])
-        for module in [labels, records, zones, answers, namesets]:
+        for module in MODULES:
             for word, one in vars(module).items():
                 if getattr(one, "__module__", None) == module.__name__ and not word.startswith(("_", "check_")):
                     if word not in HELPERS:
@@ -127,11 +190,13 @@ class MannersTest(unittest.TestCase):
                 self.assertEqual(ahead, seen(call(**arguments)))
 
     def test_objects_stay_as_they_were(self):
-        zone, names = shop_zone(), Names(ROWS)
-        for value in [zone.records(), zone.sets(), zone.names(), zone.cuts(), zone.trees(), zone.wilds(), names.rows()]:
+        zone, names, book = shop_zone(), Names(ROWS), Moves(MOVES)
+        for value in [zone.records(), zone.sets(), zone.names(), zone.cuts(), zone.trees(), zone.wilds(), names.rows(), book.moves(),
+                      zonenames.needless(zone), gaps.gaps(zone), allmoves.needless_moves(book)]:
             spoil(value)
         self.assertEqual(seen(shop_zone()), seen(zone))
         self.assertEqual(seen(Names(ROWS)), seen(names))
+        self.assertEqual(seen(Moves(MOVES)), seen(book))
         for change in [lambda: zone.with_serial(5), lambda: zone.with_records(BASE[:1]), lambda: zone.without(zone.records()[5:6])]:
             change()
             self.assertEqual(seen(shop_zone()), seen(zone))
@@ -151,7 +216,17 @@ class RaisedTest(unittest.TestCase):
             lambda: Zone(value, []), lambda: zone.has(value), lambda: zone.set_at(NET, value), lambda: zone.with_serial(value),
             lambda: zone.without([value]), lambda: zone.with_records([value]), lambda: answers.source(zone, value),
             lambda: answers.reply(zone, NET, value), lambda: under(value), lambda: namesets.with_label(under(NET), value),
-            lambda: namesets.just([NET, value]), lambda: under(NET).holds(value)]
+            lambda: namesets.just([NET, value]), lambda: under(NET).holds(value),
+            lambda: zonenames.with_word(zone, value, "found"), lambda: zonenames.with_word(zone, "addr", value),
+            lambda: zonenames.found_with(zone, "addr", value), lambda: zonenames.by_wild(zone, value),
+            lambda: zonenames.same_answers(zone, NET, value), lambda: zonenames.counted(zone, "addr", value, 5),
+            lambda: Moves(MOVES + [value]), lambda: moves.step(Moves(MOVES), value), lambda: moves.ending(Moves(MOVES), value),
+            lambda: gaps.shown(NET, GAPS + [value], NET, "addr"), lambda: gaps.clash(NET, GAPS + [value]),
+            lambda: gaps.judge_showing(NET, value, NET, "addr", GAPS), lambda: gaps.shown(NET, GAPS, value, "addr"),
+            lambda: allgaps.first_between(value, NET), lambda: allgaps.told(zone, gaps.gaps(zone) + [value], "addr", 5),
+            lambda: allgaps.fewest(zone, [NET, value], "addr"), lambda: serials.newer(5, value), lambda: serials.newest([5, value]),
+            lambda: changes.applies(ADDRS, (CHANGE[0] + [value], [])), lambda: changes.back(ADDRS, (CHANGE[0], [value])),
+            lambda: changes.changed_zone(zone, ([], CHANGE[1] + [value])), lambda: changes.changed(ADDRS + [value], CHANGE)]
 
     def test_values_are_built_anew(self):
         inner, thing = ["x"], {"k": ["y"]}
@@ -201,4 +276,4 @@ class RaisedTest(unittest.TestCase):
 
 
 HELPERS = [
-    "data_place", "record_place", "key_place", "each_once", "datas_in_order", "sets_of_checked", "unfolded"]
+    "answer_from", "numbers_of_names", "is_serial", "data_place", "record_place", "key_place", "each_once", "datas_in_order", "sets_of_checked", "unfolded"]
