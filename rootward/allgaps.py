@@ -3,8 +3,8 @@
 from rootward.errors import InvalidGap, InvalidNumber
 from rootward.gapparts import check_asked_in, gaps_by_name, has_none, hides_below, names_showing, wild_below
 from rootward.labels import WILD, check_asked, check_name
-from rootward.labelspans import first_of_size, shortest_within, span_counts, spans_behind
-from rootward.nameparts import in_order, place, sized_place, weight
+from rootward.labelspans import count_in_spans, first_in_span, spans_behind
+from rootward.nameparts import in_order, is_beneath, place, sized_place, weight
 from rootward.records import check_kind
 from rootward.values import rebuilt
 
@@ -15,20 +15,32 @@ def _check_ends(one, other):
         check_name(other)
 
 
-def _are_apart(one, other):
-    """Return whether there is any room behind a name and ahead of another one, or of the end."""
+def _is_room(one, other):
+    """Return whether a name is ahead of another one, or of the end."""
     return other is None or place(one) < place(other)
 
 
 def first_between(one, other):
     """Return the first name without `*` between two names, or behind one, None if there is none."""
     _check_ends(one, other)
-    above = one[1:] if one[:1] == (WILD,) else one
-    next_one = ("0",) + above
-    if not _are_apart(next_one, other):
+    if not _is_room(one, other):
         return None
-    numbers = _counts_between(one, other, list(range(1, weight(next_one) + 1)))
-    return first_of_size(spans_behind(one), min([size for size, number in numbers.items() if number > 0]))
+    names = []
+    for above, lower, _ in spans_behind(one):
+        # With a name also those above it are between, so of the labels ahead of these there is just one.
+        is_last = other is not None and is_beneath(other, above)
+        upper = other[len(other) - len(above) - 1] if is_last else None
+        names.append(first_in_span((above, lower, upper)))
+        if is_last and is_beneath(other, (upper,) + above):
+            names.append((upper,) + above)
+        if is_last:
+            break
+    return _first_of(names)
+
+
+def _first_of(names):
+    """Return the first of some names, of which some may be None, None if all are."""
+    return min([name for name in names if name is not None], key=sized_place, default=None)
 
 
 def between(one, other, size):
@@ -36,19 +48,13 @@ def between(one, other, size):
     _check_ends(one, other)
     if size < 0:
         raise InvalidNumber(size)
-    if not _are_apart(one, other):
+    if not _is_room(one, other):
         return 0
-    return _counts_between(one, other, [size])[size]
-
-
-def _counts_between(one, other, sizes):
-    """Return the numbers of names between a name and one behind it, or the end, by their sizes; of some sizes."""
-    numbers = span_counts(spans_behind(one), sizes)
+    number = count_in_spans(spans_behind(one), size)
     if other is None:
-        return numbers
-    behind = span_counts(spans_behind(other), sizes)
-    own = None if other[:1] == (WILD,) else weight(other)
-    return {size: numbers[size] - behind[size] - (1 if size == own else 0) for size in sizes}
+        return number
+    own = 1 if other[:1] != (WILD,) and weight(other) == size else 0
+    return number - own - count_in_spans(spans_behind(other), size)
 
 
 def _is_empty_itself(zone, gap, kind):
@@ -99,15 +105,8 @@ def first_untold(zone, gaps, kind):
         for span in _spans_over(zone.apex, gap):
             needed = _also_needed(found, span[0], kind)
             if needed is not None and (name not in passed or needed not in passed):
-                names.append(_first_in_span(span))
-    return min([name for name in names if name is not None], key=sized_place, default=None)
-
-
-def _first_in_span(span):
-    """Return the first name in a span, None if there is none."""
-    above, lower, upper = span
-    label = shortest_within(lower, upper)
-    return None if label is None else (label,) + above
+                names.append(first_in_span(span))
+    return _first_of(names)
 
 
 def told(zone, gaps, kind, size):
@@ -124,7 +123,7 @@ def told(zone, gaps, kind, size):
         for span in _spans_over(zone.apex, found[name]):
             if _also_needed(found, span[0], kind) in passed:
                 spans.append(span)
-    return len(own) + span_counts(spans, [size])[size]
+    return len(own) + count_in_spans(spans, size)
 
 
 def fewest(zone, names, kind):

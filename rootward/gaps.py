@@ -65,8 +65,6 @@ def _is_empty_at(gap, apex, name, kind):
 
 def showing(zone, name, kind):
     """Return the shortest list of gaps of a zone that shows its answer, None if that is neither absent nor empty."""
-    check_asked_in(zone.apex, name)
-    check_kind(kind)
     found = gaps_by_name(zone)
     names = names_showing(zone, list(found), name, kind)
     return None if names is None else [found[other] for other in names]
@@ -101,5 +99,5 @@ def _clashes(apex, one, other):
 
 
 def _stands_over_end(apex, gap, other):
-    """Return whether a gap stands over one of the two names of another one."""
-    return any([stands_over(gap, apex, name) for name in other[:2] if name != apex])
+    """Return whether a gap stands over one of the two names of another one; none does over the apex."""
+    return any([stands_over(gap, apex, name) for name in other[:2]])

@@ -40,7 +40,7 @@ def _labels_from(text, length):
     return own + _labels_behind(text, length)
 
 
-def labels_within(lower, upper, length):
+def _labels_within(lower, upper, length):
     """Return the number of labels of a length between two ends."""
     number = _labels_behind(lower, length)
     if upper is not None:
@@ -54,7 +54,7 @@ def _least_way(text, length):
     return text + "".join(signs)
 
 
-def label_behind(text, length):
+def _label_behind(text, length):
     """Return the first label of a length, as texts, behind another one, None if there is none."""
     if text is None or text == WILD:
         return _least_way("", length)
@@ -67,28 +67,26 @@ def label_behind(text, length):
     return None
 
 
-def shortest_within(lower, upper):
+def _shortest_within(lower, upper):
     """Return the label with the fewest signs between two ends, of several the first as texts, None if there is none."""
     for length in range(1, LONGEST + 1):
-        label = label_behind(lower, length)
+        label = _label_behind(lower, length)
         if label is not None and (upper is None or label < upper):
             return label
     return None
 
 
-def span_counts(spans, sizes):
-    """Return the numbers of names in some spans, which have no name together, by their sizes; of some sizes."""
-    numbers = numbers_of_names(max(sizes, default=0) + 1)
-    counts = {size: 0 for size in sizes}
+def count_in_spans(spans, size):
+    """Return the number of names of a size in some spans, which have no name together."""
+    numbers = numbers_of_names(size)
+    found = 0
     for above, lower, upper in spans:
         for length in range(1, LONGEST + 1):
-            many = labels_within(lower, upper, length)
-            least = weight(above) + length + 1
-            for size in sizes:
-                # The labels ahead of this one have the rest of the size.
-                if size >= least:
-                    counts[size] = counts[size] + many * numbers[size - least + 1]
-    return counts
+            # The labels ahead of the one between the ends have the rest of the size.
+            rest = size - weight(above) - length
+            if rest > 0:
+                found = found + _labels_within(lower, upper, length) * numbers[rest]
+    return found
 
 
 def spans_behind(name):
@@ -97,21 +95,8 @@ def spans_behind(name):
     return spans + [(name[many:], name[many - 1], None) for many in range(1, len(name) + 1)]
 
 
-def first_of_size(spans, size):
-    """Return the first name of a size, in order, in some spans that are in order, None if there is none."""
-    for above, lower, _ in spans:
-        label = _first_fitting(lower, size - weight(above))
-        if label is not None:
-            name = (label,) + above
-            while weight(name) < size:
-                name = (_first_fitting(None, size - weight(name)),) + name
-            return name
-    return None
-
-
-def _first_fitting(lower, room):
-    """Return the first label behind an end with which names can fill a room, None if there is none."""
-    # A label that leaves a room of 1 can't be followed by another one.
-    lengths = [length for length in range(1, LONGEST + 1) if length + 1 == room or length + 3 <= room]
-    labels = [label_behind(lower, length) for length in lengths]
-    return min([label for label in labels if label is not None], default=None)
+def first_in_span(span):
+    """Return the first name in a span, None if there is none."""
+    above, lower, upper = span
+    label = _shortest_within(lower, upper)
+    return None if label is None else (label,) + above

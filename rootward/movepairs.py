@@ -7,7 +7,7 @@ from rootward.movereads import ENDED, OTHER, READ
 from rootward.rowtools import explored
 
 NEVER = "never"
-# A pair behind which all names come to unlike ends, or none does.
+# Instead of a pair of sides: the ends are unlike, or they are alike whatever labels come.
 APART = "apart"
 ALIKE = "alike"
 
@@ -31,37 +31,21 @@ def last_of(reading, side):
     return word if what == ENDED else None
 
 
-def ends_of_ends(reading):
-    """Return all ends of what may stand at the end of a last name when a book has just moved it there."""
-    found = {}
-    for word in reading.words:
-        sides = [side_behind(reading, (READ, word), sign) for sign in reading.signs]
-        for last in [last_of(reading, (READ, word))] + [end for what, end in sides if what == ENDED]:
-            if last is not None:
-                for many in range(len(last) + 1):
-                    found[last[len(last) - many:]] = True
-    return found
-
-
 class Pairing:
     """Two books that read names at once."""
 
     def __init__(self, one, other):
         self.readings = (one, other)
-        self.ends = (ends_of_ends(one), ends_of_ends(other))
         self.labels = sorted({sign for sign in list(one.signs) + list(other.signs) if sign != OTHER})
 
     def settled(self, pair):
-        """Return a pair of sides, or the word for it if it does not hang on any more labels."""
-        (what, word), (other_what, other_word) = pair
-        if what != READ and other_what != READ:
-            return ALIKE if pair[0] == pair[1] else APART
-        # The other book can't come to this end any more.
-        if what == ENDED and word not in self.ends[1]:
+        """Return a pair of sides, or the word for it if it does not matter which labels come.
+
+        Where the ends are unlike without any more labels, no name with more of them is the first one."""
+        one, other = [last_of(reading, side) for reading, side in zip(self.readings, pair)]
+        if one != other:
             return APART
-        if other_what == ENDED and other_word not in self.ends[0]:
-            return APART
-        return pair
+        return pair if READ in (pair[0][0], pair[1][0]) else ALIKE
 
     def behind(self, pair, label):
         """Return what is known of the two behind a label."""
@@ -69,13 +53,12 @@ class Pairing:
         return self.settled(tuple(sides))
 
     def look(self, pair):
-        """Return the row of a pair, with pairs told as themselves."""
+        """Return the row of what is known, with that which is known behind it told as itself."""
         if pair in (APART, ALIKE):
             return (pair == APART, [], pair)
-        one, other = [last_of(reading, side) for reading, side in zip(self.readings, pair)]
         roads = [(label, self.behind(pair, label)) for label in self.labels]
-        return (one != other, roads, self.behind(pair, OTHER))
+        return (False, roads, self.behind(pair, OTHER))
 
     def rows(self):
-        """Return the rows of a machine for the names with unlike ends."""
-        return explored(((READ, ()), (READ, ())), self.look)
+        """Return the rows of a machine for the names with unlike ends, but some that are below others of them."""
+        return explored(self.settled(((READ, ()), (READ, ()))), self.look)

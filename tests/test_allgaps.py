@@ -55,12 +55,15 @@ class BetweenTest(unittest.TestCase):
     def test_by_hand(self):
         long = "x" * 20
         for one, other, name in [
+                ((), ("0", "0"), ("0",)), ((), ("*", "0"), ("0",)), (("a",), ("0", "a0"), ("a0",)), (("a",), ("x", "y", "b"), ("b",)),
+                (("*", "a"), ("k", "0", "a"), ("0", "a")), (("0", "a"), ("*", "1", "a"), ("1", "a")),
                 ((), None, ("0",)), ((), ("0",), None), (("a",), ("b",), ("a0",)), (("a",), ("0", "a"), None), (("z",), None, ("z0",)),
                 (("a",), ("00", "a"), ("0", "a")), (("0", "a"), ("00", "a"), ("0", "0", "a")), (("*", "a"), ("0", "a"), None),
                 (("a",), ("*", "a"), None), (("*",), ("1",), ("0",)), (("*", "a"), None, ("b",)), (("a", "b"), ("a", "b"), None),
                 (("b",), ("a",), None), ((long,), ("y",), ("xy",)), ((long,), (long[:-1] + "y",), ("0", long)),
                 (("a",), ("a0",), ("0", "a")), (("9",), ("a",), ("90",)), (("a-b",), ("a0",), ("a-c",)), (("zz",), None, ("zz0",)),
-                ((long, "a"), ("b",), ("a0",)), ((long, "a"), ("a0",), ("y", "a")), (("z" * 20,), None, ("0", "z" * 20)), (("0", "z" * 20), ("1", "z" * 20), ("00", "z" * 20))]:
+                ((long, "a"), ("b",), ("a0",)), ((long, "a"), ("a0",), ("y", "a")),
+                (("z" * 20,), None, ("0", "z" * 20)), (("0", "z" * 20), ("1", "z" * 20), ("00", "z" * 20))]:
             self.assertEqual(name, self.check(one, other), (one, other))
 
     def test_numbers_by_hand(self):
@@ -150,6 +153,15 @@ class UntoldTest(unittest.TestCase):
                 (listed[:1] + listed[2:], "text", ("0", "net")), (listed[:1] + listed[2:], "addr", None),
                 (listed[:-1], "addr", ("0", "www", "net")), (listed[:-1], "text", ("x", "net")), (listed[:2], "text", ("b", "net"))]:
             self.assertEqual(name, self.check(zone, part, kind), (part, kind))
+
+    def test_labels_between(self):
+        long = "a" * 19
+        for labels, name in [
+                (["a", "b"], ("a0",)), (["a", "c"], ("b",)), (["za-a", "zb"], ("za0",)), (["za-a", "zc"], ("zb",)),
+                ([long + "a", long + "c"], (long + "b",)), ([long + "a", long + "b"], ("0", long + "a"))]:
+            zone = zone_with((), [((label,), "addr", 5, 1) for label in labels])
+            part = [gap for gap in gaps(zone) if gap[0] != (labels[0],)]
+            self.assertEqual(name, first_untold(zone, part, "addr"))
 
     def test_told_in_all(self):
         for seed in range(12):
@@ -252,7 +264,8 @@ class WrongTest(unittest.TestCase):
         for value in [(), ("org",), ("net", "a")]:
             self.check(OutOfZone, value, lambda: fewest(zone, [NET, value, ("later",)], "no kind"))
         for value in NOTHING_AT_ALL + ["none", ("addr",)]:
-            for call in [lambda: fewest(zone, [NET], value), lambda: first_untold(zone, [], value), lambda: told(zone, [], value, -1)]:
+            for call in [lambda: fewest(zone, [NET], value), lambda: fewest(zone, [], value),
+                         lambda: first_untold(zone, [], value), lambda: told(zone, [], value, -1)]:
                 self.check(InvalidKind, value, call)
 
 

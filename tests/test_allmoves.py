@@ -137,6 +137,24 @@ class GoalsTest(unittest.TestCase):
         for many in range(1, 12):
             self.assertEqual((many + 1) % 2 == 1, two.holds(("k",) * many + ("x",)))
 
+    def test_chains_of_aliases(self):
+        names = [A, B, C, ("d",), ("e",)]
+        for order in [names, names[::-1], [C, A, ("e",), B, ("d",)], [("d",), B, A, ("e",), C]]:
+            moves = Moves([("alias", name, target) for name, target in zip(order, order[1:])])
+            for at, name in enumerate(order):
+                self.assertEqual(just(order[:at + 1]), coming_to(moves, just([name])))
+                self.assertEqual(just(order if at == 4 else []), ending_in(moves, just([name])))
+
+    def test_growth_by_several_moves(self):
+        signs = ["x", "y", "z"]
+        for order in [signs, signs[::-1]]:
+            moves = Moves([("tree", (label,), ("p", after)) for label, after in zip(order, order[1:] + order[:1])])
+            beneath = join(below(("x",)), join(below(("y",)), below(("z",))))
+            for label in signs:
+                self.assertEqual(join(beneath, just([(label,)])), coming_to(moves, under((label,))))
+            for kept in range(4):
+                self.assertEqual(join(beneath, cycle(4, kept)), coming_to(moves, cycle(4, kept)))
+
     def test_sets_with_61_states(self):
         chance = random.Random(8)
         names = [tuple([chance.choice(["a", "b", "c", "q", "z"]) for _ in range(chance.randrange(1, 4))]) for _ in range(40)]
@@ -174,7 +192,8 @@ class LongestTest(unittest.TestCase):
         self.assertTrue(numbers.count(None) > 20 and len(set(numbers)) > 4, numbers)
 
     def test_none(self):
-        for listed in [[("tree", A, ())], [("tree", ("a", "a"), ("a",))], [("tree", A, B), ("tree", B, ())], [("tree", ("a", "b"), B), ("tree", C, ("b", "d"))]]:
+        for listed in [[("tree", A, ())], [("tree", ("a", "a"), ("a",))], [("tree", A, B), ("tree", B, ())],
+                       [("tree", ("a", "b"), B), ("tree", C, ("b", "d"))]]:
             self.assertEqual([None, None], [longest(Moves(listed)), longest_name(Moves(listed))])
 
     def test_numbers(self):

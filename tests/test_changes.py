@@ -7,7 +7,6 @@ from rootward.changes import applies, back, changed, changed_zone, is_change
 from rootward.errors import InvalidDeed, InvalidRecord, InvalidZone, OutOfZone, UnlikeAges
 from rootward.records import first_unlike, records_of, sets_of
 from rootward.serials import further
-from rootward.zones import Zone
 from tests.samples import DATA, KINDS, NOTHING_AT_ALL, Stranger, nested, shop_zone, start_at, zone_with
 
 A, B, C, NET = ("a",), ("b",), ("c",), ("net",)
@@ -126,7 +125,8 @@ class IsChangeTest(unittest.TestCase):
             self.check_wrong(1, entry)
 
     def test_no_changes(self):
-        for value in [one for one in NOTHING_AT_ALL if one != ([], [])] + [(), ([],), ([], [], []), ([], ()), ((), []), [[], []], {0: []}, ([], None), (None, []), ([], {}), "ab"]:
+        more = [(), ([],), ([], [], []), ([], ()), ((), []), [[], []], {0: []}, ([], None), (None, []), ([], {}), "ab"]
+        for value in [one for one in NOTHING_AT_ALL if one != ([], [])] + more:
             self.assertFalse(is_change(value))
 
 
@@ -227,7 +227,8 @@ class BackTest(unittest.TestCase):
                 ([], []), ([("add", (A, "addr", 5, 1))], []), ([("add", (A, "addr", 6, 1))], [("add", (A, "addr", 5, 1))]),
                 ([("add", (A, "addr", 6, 0))], [("take", A, "addr", 0), ("add", (A, "addr", 5, 1))]), ([("add", (A, "addr", 5, 0))], [("take", A, "addr", 0)]),
                 ([("take", A, "addr", 2)], [("add", (A, "addr", 5, 2))]), ([("clear", A, "addr")], [("add", (A, "addr", 5, 1)), ("add", (A, "addr", 5, 2))]),
-                ([("add", (C, "addr", 5, 1))], [("clear", C, "addr")]), ([("drop", B), ("add", (B, "mail", 1, (1, A)))], [("clear", B, "mail"), ("add", (B, "text", 9, "x"))]),
+                ([("add", (C, "addr", 5, 1))], [("clear", C, "addr")]),
+                ([("drop", B), ("add", (B, "mail", 1, (1, A)))], [("clear", B, "mail"), ("add", (B, "text", 9, "x"))]),
                 ([("drop", A), ("add", (A, "addr", 5, 9)), ("add", (A, "addr", 8, 8))],
                  [("take", A, "addr", 8), ("take", A, "addr", 9), ("add", (A, "addr", 5, 1)), ("add", (A, "addr", 5, 2)), ("add", (A, "text", 7, "x"))])]:
             self.assertEqual(([], expected), back(BOOK, ([], deeds)))

@@ -6,12 +6,12 @@ from rootward.answers import answer, source
 from rootward.errors import (
     InvalidKind, InvalidName, InvalidNumber, InvalidRecord, InvalidWord, OutOfZone)
 from rootward.labels import first, names_of, nth_label, size
-from rootward.namesets import below, count, join, just, meet, nobody, put_under, under, with_label, without
+from rootward.namesets import below, count, join, just, meet, nobody, put_under, under, without
 from rootward.zonenames import (
     are_alike, by_wild, counted, first_unlike, found_with, lean, needless, same_answers, with_word)
 from rootward.zones import Zone
 from tests import plainly
-from tests.samples import KINDS, NOTHING_AT_ALL, random_zone, shop_zone, small_names, start_at, zone_with
+from tests.samples import KINDS, NOTHING_AT_ALL, random_zone, shop_zone, start_at, zone_with
 
 WORDS = ["absent", "alias", "cut", "empty", "found", "tree"]
 NET = ("net",)
