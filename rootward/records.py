@@ -68,6 +68,21 @@ def is_record(value):
     return is_name(name) and is_kind(kind) and is_between(age, 0, MOST_AGE) and is_data(kind, data)
 
 
+def are_datas(kind, value):
+    """Return whether any object is an ascending tuple of data of a kind, not empty."""
+    if not isinstance(value, tuple) or len(value) == 0 or not all([is_data(kind, data) for data in value]):
+        return False
+    return all([data_compared(kind, one, other) < 0 for one, other in zip(value, value[1:])])
+
+
+def is_set(value):
+    """Return whether any object is a set of records."""
+    if not isinstance(value, tuple) or len(value) != 4:
+        return False
+    name, kind, age, datas = value
+    return is_name(name) and is_kind(kind) and is_between(age, 0, MOST_AGE) and are_datas(kind, datas)
+
+
 def check_record(record):
     """Raise InvalidRecord if any object is no record."""
     if not is_record(record):

@@ -135,9 +135,113 @@ SERIALS = """
 [3, 2, 3, 0, 1, True, False]
 """
 
+ALLCHANGES = """
+>>> from rootward.allchanges import apart, behind, idle, judge_apart, lean, order_apart, when
+>>> a = ("a",)
+>>> put, clear = ([], [("add", (a, "addr", 5, 1))]), ([], [("clear", a, "addr")])
+>>> [apart(put, put), apart(clear, ([("has", a, "addr")], [("clear", a, "addr")])), apart(clear, ([], [("drop", a)])) is None, order_apart(put, clear), order_apart(put, ([], [("add", (a, "addr", 5, 2))]))]
+[None, None, False, [], None]
+>>> [when(([("there", a), ("free", a)], [])), behind(put, ([("has", a, "addr")], [])), idle(([("lacks", a, "addr")], [("clear", a, "addr")])), lean(([("there", a)], [("clear", a, "addr"), ("clear", a, "addr")])), judge_apart(put, ([], []), [])]
+['never', 'always', True, ([], [('clear', ('a',), 'addr')]), True]
+"""
+
+JOURNALS = """
+>>> from rootward.journals import caught_up, chain, difference, put_together, turned_back, weight
+>>> from rootward.zones import Zone
+>>> one = Zone((), [((), "start", 60, (("n",), 1, 2, 3, 4, 50)), ((), "server", 60, ("n",))])
+>>> two = one.with_serial(2).with_records([(("w",), "addr", 9, 5)])
+>>> three = two.with_serial(3).without([(("w",), "addr", 9, 5)])
+>>> first, second = difference(one, two), difference(two, three)
+>>> [first[:2], len(first[2]), len(first[3]), put_together([first, second]) == difference(one, three), turned_back(first) == difference(two, one)]
+[(1, 2), 1, 2, True, True]
+>>> [chain([first, second, difference(one, three)], 1, 3), weight([first, second], [0, 1]), caught_up(one, [first, second], 3) == three, chain([first], 2, 1)]
+[[2], 6, True, None]
+"""
+
+ZONETEXTS = r"""
+>>> from rootward.zones import Zone
+>>> from rootward.zonetexts import shortest_size, shortest_text, show_zone
+>>> zone = Zone(("net",), [(("net",), "start", 60, (("n", "net"), 1, 2, 3, 4, 50)), (("net",), "server", 60, ("n", "net")), (("n", "net"), "addr", 60, 5)])
+>>> show_zone(zone)
+'zone net.\nnet. 60 server n.net.\nnet. 60 start n.net. 1 2 3 4 50\nn.net. 60 addr 5\n'
+>>> [shortest_text(zone), shortest_size(zone)]
+['zone net.\nage 60\n@ server n\n start n 1 2 3 4 50\nn addr 5\n', 57]
+"""
+
+ZONEREADS = r"""
+>>> from rootward.errors import Unreadable
+>>> from rootward.zonereads import read_names, read_zone
+>>> from rootward.zonetexts import show_zone
+>>> text = "zone net.\n@ 60 start n 1 2 3 4 50\n 60 server n ; one\n\nage 7\norigin sub.net.\n* addr 5\n"
+>>> [show_zone(read_zone(text)).count("7 addr"), read_names(text), len(read_zone(text))]
+[1, [('net',), ('*', 'sub', 'net')], 3]
+"""
+
+MESSAGES = """
+>>> from rootward.messages import question, replied, told_of
+>>> from rootward.zones import Zone
+>>> zone = Zone((), [((), "start", 60, (("n",), 1, 2, 3, 4, 50)), ((), "server", 60, ("n",)), (("n",), "addr", 60, 5), (("m",), "alias", 9, ("n",))])
+>>> asked = question(7, ("m",), "addr", True)
+>>> answer = replied(zone, asked)
+>>> [asked, answer[:3], answer[4], told_of(answer, ("m",), "addr"), told_of(answer, ("m",), "text"), replied(zone, question(7, ("z",), "addr", False))[1:3]]
+[(7, ('deep',), 0, [(('m',), 'addr')], [], [], []), (7, ('deep', 'reply', 'sure'), 0), [(('m',), 'alias', 9, ('n',)), (('n',), 'addr', 60, 5)], (5,), None, (('reply', 'sure'), 3)]
+"""
+
+WIRES = """
+>>> from rootward.messages import question
+>>> from rootward.wires import cut_to, packed, packed_size, plain_bytes, spared
+>>> asked = question(258, ("b", "a"), "addr", True)
+>>> plain_bytes(asked)
+[1, 2, 2, 0, 0, 1, 0, 0, 0, 0, 0, 0, 1, 98, 1, 97, 0, 1]
+>>> told = (258, ("reply",), 0, [(("b", "a"), "addr")], [(("b", "a"), "server", 3, ("c", "a"))], [], [])
+>>> [packed(told)[12:], spared(told), packed_size(cut_to(told, 20)), cut_to(told, 20)[1], cut_to(told, 17)]
+[[1, 98, 1, 97, 0, 1, 192, 12, 5, 0, 0, 0, 3, 0, 4, 1, 99, 192, 14], 4, 18, ('cut', 'reply'), None]
+"""
+
+WIREREADS = """
+>>> from rootward.errors import Unreadable
+>>> from rootward.wirereads import is_packed, is_shortest, unpacked
+>>> head = [1, 2, 2, 0, 0, 1, 0, 0, 0, 0, 0, 0]
+>>> [unpacked(head + [1, 98, 1, 97, 0, 1]), is_packed(head + [1, 98, 1, 97, 0, 1]), is_shortest([]), is_packed(head + [1, 97, 0, 9])]
+[(258, ('deep',), 0, [(('b', 'a'), 'addr')], [], [], []), True, False, False]
+"""
+
+REACH = """
+>>> from rootward.asking import ask
+>>> from rootward.failures import keeping, stopping
+>>> from rootward.forests import Forest, plain
+>>> from rootward.reach import block_of, judge_block, prices, reached, way_to
+>>> from rootward.trust import least_takers, takeable
+>>> from rootward.zones import Zone
+>>> net, org, shop, nn, no = ("net",), ("org",), ("shop", "net"), ("ns", "net"), ("ns", "org")
+>>> parts = [((), ("ns",), [(("ns",), "addr", 9, 1), (net, "server", 9, nn), (nn, "addr", 9, 2), (org, "server", 9, nn)])]
+>>> more = [(net, nn, [(nn, "addr", 9, 2), (shop, "server", 9, no)]), (org, nn, [(no, "addr", 9, 3)]), (shop, no, [(("www",) + shop, "addr", 9, 9)])]
+>>> zones = [Zone(apex, [(apex, "start", 9, (host, 1, 2, 3, 4, 5)), (apex, "server", 9, host)] + rest) for apex, host, rest in parts + more]
+>>> forest = Forest(zones, {1: [()], 2: [net, org], 3: [shop]}, [1])
+>>> [reached(forest), reached(forest, up=[1, 2]), prices(forest)]
+[[(), ('net',), ('shop', 'net'), ('org',)], [(), ('net',), ('org',)], [((), 1), (('net',), 2), (('shop', 'net'), 7), (('org',), 4)]]
+>>> [way_to(forest, org), judge_block(forest, org, [net, shop, org], up=[1, 3]), len(ask(forest, ("www",) + shop, "addr")[1]), plain(forest, ("www",) + shop, "addr")]
+[[('root', 1), ('zone', ('net',), ('ns', 'net'), 2), ('zone', ('org',), ('ns', 'net'), 2)], True, 7, (('found', 9, (9,)), [('www', 'shop', 'net')])]
+>>> [stopping(forest, shop), keeping(forest, org), takeable(forest, [3]), takeable(forest, [2]), least_takers(forest, org)]
+[[[1], [2], [3]], [[1, 2]], [('shop', 'net')], [('net',), ('shop', 'net'), ('org',)], [1, 2]]
+"""
+
+VIEWS = """
+>>> from rootward.forwards import first_ring, rings, route, unlike_routes
+>>> from rootward.views import merged_views, unlike_view, view_of, view_ranges
+>>> books = {"a": [((), "b"), (("net",), None)], "b": [((), None), (("org",), "a")]}
+>>> [route(books, "a", ("www", "org")), route(books, "a", ("x", "net")), rings(books), first_ring(books, "a"), unlike_routes(books, {"a": [((), "b")], "b": [((), None)]}, "a")]
+[(['a', 'b'], 'ring'), (['a'], 'here'), [(('org',), 'a'), (('org',), 'b')], ('org',), ('net',)]
+>>> views = [(0, 9, "in"), (5, 20, "out")]
+>>> [view_of(views, 7), view_ranges(views), merged_views(views), unlike_view(views, views[:1])]
+['in', [(0, 9, 'in'), (10, 20, 'out'), (21, 4294967295, None)], [(0, 9, 'in'), (10, 20, 'out')], 10]
+"""
+
 EXAMPLES = {
     "labels": LABELS, "records": RECORDS, "zones": ZONES, "answers": ANSWERS, "namesets": NAMESETS, "zonenames": ZONENAMES,
-    "moves": MOVES, "allmoves": ALLMOVES, "gaps": GAPS, "allgaps": ALLGAPS, "serials": SERIALS, "changes": CHANGES}
+    "moves": MOVES, "allmoves": ALLMOVES, "gaps": GAPS, "allgaps": ALLGAPS, "serials": SERIALS, "changes": CHANGES,
+    "allchanges": ALLCHANGES, "journals": JOURNALS, "zonetexts": ZONETEXTS, "zonereads": ZONEREADS, "messages": MESSAGES,
+    "wires": WIRES, "wirereads": WIREREADS, "reach": REACH, "views": VIEWS}
 
 
 class ExamplesTest(unittest.TestCase):
