@@ -90,7 +90,7 @@ def _is_book_of(value, many):
     if not isinstance(value, list) or not all([is_set(entry) for entry in value]):
         return False
     places = [_place(entry) for entry in value]
-    return _number(value) == many and all([place < behind for place, behind in zip(places, places[1:])])
+    return _number(value) == many and all([place < later for place, later in zip(places, places[1:])])
 
 
 def when(change):

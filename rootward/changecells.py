@@ -14,7 +14,7 @@ OCCUPIED = 2
 
 
 def cells_of(changes):
-    """Return a dict: to each name of some changes a dict: to each kind the list of its data, another one at last."""
+    """Return a dict: to each name of some changes a dict: to each kind there the list of its data."""
     cells = {}
     for conditions, deeds in changes:
         for entry in conditions + deeds:
@@ -22,12 +22,13 @@ def cells_of(changes):
             found = cells.setdefault(name, {})
             for kind in kinds:
                 found[kind] = found.get(kind, []) + [data for data in datas if data not in found.get(kind, [])]
-    for found in cells.values():
-        for kind in [other for other in KINDS if other not in found][:1]:
-            found[kind] = []
-        for kind in list(found):
-            found[kind] = found[kind] + [_other_data(kind, found[kind])]
-    return cells
+    return {name: _with_others(kinds) for name, kinds in cells.items()}
+
+
+def _with_others(kinds):
+    """Return the kinds at a name with their data, and with another kind, if there is one, and other data of each."""
+    spare = {kind: [] for kind in [other for other in KINDS if other not in kinds][:1]}
+    return {kind: datas + [_other_data(kind, datas)] for kind, datas in list(kinds.items()) + list(spare.items())}
 
 
 def _told_by(entry):
@@ -80,7 +81,7 @@ def cheapest(cells, needs, ends):
 
 
 def _is_better(plans, key, cost):
-    """Return whether plans, a dict of tuples of costs and what is chosen, have no plan of a key that costs as little."""
+    """Return whether a cost is less than that of the plan of a key, of plans told as tuples (cost, chosen sets)."""
     return key not in plans or cost < plans[key][0]
 
 

@@ -53,10 +53,8 @@ class Origins:
 
     def __init__(self, apex, records):
         written = [_names_written(records, at) for at in range(len(records))]
-        ends = {apex[steps:]: True for steps in range(len(apex) + 1)}
-        for name in [name for names in written for name in names]:
-            ends.update({end: True for end in _origins_above(name)})
-        self._all = sorted(ends, key=len)
+        ends = [end for names in [[apex]] + written for name in names for end in _origins_above(name)]
+        self._all = sorted({end: True for end in ends}, key=len)
         self._place = {origin: at for at, origin in enumerate(self._all)}
         self._sizes = [weight(origin) for origin in self._all]
         # The least costs behind each origin: from each record on, and those if no origin line stands ahead of it.

@@ -26,7 +26,7 @@ LIBRARY = {"heapq": "heappush heappop heapify heapreplace heappushpop".split(), 
 BUILTIN_NAMES = [word for word in vars(builtins) if word != "_"]
 DUNDERS = ["__init__", "__eq__", "__len__"]
 STATEMENTS = (ast.FunctionDef, ast.Return, ast.Delete, ast.Assign, ast.AugAssign, ast.For, ast.While, ast.If, ast.Raise,
-              ast.Assert, ast.Expr, ast.Pass, ast.Break, ast.Continue, ast.Import, ast.ImportFrom, ast.ClassDef)
+              ast.Assert, ast.Expr, ast.Pass, ast.Break, ast.Continue, ast.Import, ast.ImportFrom, ast.ClassDef, ast.Try)
 
 
 def words_of(text):
@@ -158,10 +158,17 @@ def check_imports(text):
     return found
 
 
+def is_plain_try(node, own_errors):
+    """L19: only errors of the package are caught, each by its name; no finally."""
+    words = [one.type.id if isinstance(one.type, ast.Name) else None for one in node.handlers]
+    return node.finalbody == [] and words != [] and all([word in own_errors for word in words])
+
+
 def check_statements(text):
-    """L3, L4, L6: what may stand at module level, in classes and in functions."""
+    """L3, L4, L6, L19: what may stand at module level, in classes and in functions."""
     tree = ast.parse(text)
     found = []
+    own_errors = [one.name for node in tree.body if isinstance(node, ast.ImportFrom) and node.module == "rootward.errors" for one in node.names]
     for node in tree.body:
         docstring = isinstance(node, ast.Expr) and isinstance(node.value, ast.Constant)
         plain = isinstance(node, ast.Assign) and len(node.targets) == 1 and isinstance(node.targets[0], ast.Name)
@@ -172,6 +179,8 @@ def check_statements(text):
     for node in ast.walk(tree):
         if isinstance(node, ast.stmt) and not isinstance(node, STATEMENTS):
             found.append(f"{node.lineno}: {node.__class__.__name__}")
+        if isinstance(node, ast.Try) and not is_plain_try(node, own_errors):
+            found.append(f"{node.lineno}: try")
         if isinstance(node, (ast.FunctionDef, ast.ClassDef)) and [
                 one for one in node.decorator_list if ast.unparse(one) != "property"]:
             found.append(f"{node.lineno}: decorator")

@@ -31,6 +31,30 @@ FUNCTIONS = {
         judge_steps(one,other,missed,value)""",
     "changes": """is_change(value) applies(records,change) changed(records,change) changed_zone(zone,change)
         back(records,change)""",
+    "allchanges": """apart(one,other) order_apart(one,other) judge_apart(one,other,value) judge_order(one,other,value) when(change)
+        behind(one,other) idle(change) lean(change)""",
+    "journals": """is_difference(value) difference(one,other) brought(zone,difference) turned_back(difference)
+        put_together(differences) chain(journal,old,new) weight(journal,indexes) caught_up(zone,journal,new)
+        is_cheaper(zone,journal,old)""",
+    "zonetexts": "show_zone(zone) shortest_text(zone) shortest_size(zone)",
+    "zonereads": "read_zone(text) read_names(text)",
+    "messages": """is_message(value) question(number,name,kind,is_deep) replied(zone,message) records_of(message)
+        told_of(message,name,kind)""",
+    "wires": "plain_bytes(message) packed(message) packed_size(message) cut_to(message,size) spared(message)",
+    "wirereads": "unpacked(code) is_packed(code) is_shortest(code) same_message(one,other)",
+    "forests": "home(forest,name) parent(forest,apex) plain(forest,name,kind) homes(forest,name,kind) faults(forest)",
+    "asking": "ask(forest,name,kind,*,up=None)",
+    "reach": """reached(forest,*,up=None) findable(forest,name,kind,*,up=None) way_to(forest,apex,*,up=None)
+        judge_way(forest,apex,value,*,up=None) block_of(forest,apex,*,up=None) judge_block(forest,apex,value,*,up=None)
+        prices(forest,*,up=None) judge_prices(forest,value,*,up=None)""",
+    "failures": """keeping(forest,apex) stopping(forest,apex) fewest_to_stop(forest,apex) safe_against(forest,apex,count)
+        stop_tree(forest,apex) judge_stop_tree(forest,apex,count,value)""",
+    "trust": """takeable(forest,bad) take_steps(forest,bad,apex) judge_take_steps(forest,bad,apex,value) sound(forest,bad,apex)
+        least_takers(forest,apex) counts(forest,bad,telling) wrong_names(forest,bad,tellings,*,strict=True)""",
+    "forwards": """route(books,node,name) origin_of(books,name) rings(books) first_ring(books,node) ranks(books,name)
+        judge_ranks(books,value) unlike_routes(books,other_books,node)""",
+    "views": """view_of(views,machine) idle_views(views) view_ranges(views) unlike_view(views,other_views)
+        merged_views(views)""",
 }
 
 METHODS = {
@@ -38,17 +62,21 @@ METHODS = {
         cuts() trees() wilds() nearest(name) with_records(records) without(records) with_serial(serial)""",
     ("namesets", "Names"): "__init__(rows) __len__() __eq__(other) rows() holds(name)",
     ("moves", "Moves"): "__init__(moves) __len__() __eq__(other) moves()",
+    ("forests", "Forest"): "__init__(zones,serves,roots) __eq__(other) zone(apex) serves(machine)",
 }
 
-PROPERTIES = {("zones", "Zone"): ["apex", "serial", "absent_age"]}
+PROPERTIES = {("zones", "Zone"): ["apex", "serial", "absent_age"], ("forests", "Forest"): ["zones", "machines", "roots"]}
 
 
 def told(function, skipped):
     """Return a function as the lists above tell it."""
     arguments = function.args
     plain = [one.arg for one in arguments.args][skipped:]
-    if arguments.posonlyargs or arguments.kwonlyargs or arguments.vararg or arguments.kwarg or arguments.defaults:
+    if arguments.posonlyargs or arguments.vararg or arguments.kwarg or arguments.defaults:
         plain.append("something else")
+    if arguments.kwonlyargs:
+        plain.append("*")
+    plain.extend([one.arg + "=" + ast.unparse(default) for one, default in zip(arguments.kwonlyargs, arguments.kw_defaults)])
     return function.name + "(" + ",".join(plain) + ")"
 
 

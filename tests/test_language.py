@@ -91,6 +91,10 @@ class ChecksTest(unittest.TestCase):
                      "def f():\n    with a:\n        pass\n", "def f():\n    try:\n        pass\n    except A:\n        pass\n",
                      "def f():\n    raise a.b(1)\n", "@a\ndef f():\n    pass\n", "class A:\n    def __hash__(self):\n        pass\n"]:
             self.assertNotEqual([], language.check_statements(text), text)
+        for caught in ["ValueError", "Exception", "(Unreadable, KeyError)", "a.Unreadable"]:
+            text = "from rootward.errors import Unreadable\ndef f():\n    try:\n        g()\n    except " + caught + ":\n        pass\n"
+            self.assertNotEqual([], language.check_statements(text), caught)
+            self.assertEqual([], language.check_statements(text.replace(caught, "Unreadable")))
 
     def test_expressions(self):
         for row in ["any(a for a in b)", "1 / 2", "1.5", "'50%'", "b is b", "2 ** b", "eval(b)", "b.encode()", "lambda: b", "[*b]",

@@ -9,6 +9,7 @@ from rootward.errors import InvalidName, InvalidNames, InvalidZone, TreeError
 from rootward.moves import Moves
 from rootward.namesets import Names, under
 from rootward.zones import Zone
+from tests.manners import Manners, seen, spoil
 from tests.samples import NOTHING_AT_ALL, nested, shop_zone, start_at
 
 NET, WWW = ("net",), ("www", "net")
@@ -19,7 +20,6 @@ ROWS = [(False, [("a", 1), ("b", 0)], 0), (True, [("c", 1)], 0)]
 MOVES = [("tree", ("org",), NET), ("alias", WWW, ("w",)), ("tree", ("x",), ("y", "x"))]
 GAPS = [(NET, WWW, ("server", "start")), (WWW, NET, ())]
 CHANGE = ([("there", WWW), ("just", WWW, "addr", (1, 2))], [("add", (WWW, "addr", 6, 3)), ("drop", NET)])
-MODULES = [labels, records, zones, answers, namesets, zonenames, moves, allmoves, gaps, allgaps, serials, changes]
 
 
 def calls():
@@ -113,7 +113,7 @@ def calls_of_changes(zone):
 
 
 def lists_in(value):
-    """Return all lists within lists and tuples, each as often as it stands there."""
+    """Return all lists within lists and tuples; a dict in a refused object is stored as it is."""
     found = [value] if isinstance(value, list) else []
     if isinstance(value, (list, tuple)):
         for part in value:
@@ -121,73 +121,20 @@ def lists_in(value):
     return found
 
 
-def spoil(value):
+def spoil_lists(value):
     """Change all lists within lists and tuples."""
     for one in lists_in(value):
         one.append("spoiled")
         del one[0]
 
 
-def seen(value):
-    """Return something plain by which an argument or an answer can be compared."""
-    if isinstance(value, Zone):
-        return ("zone", value.apex, value.serial, value.absent_age, value.records(), value.sets(), value.names())
-    if isinstance(value, Names):
-        return ("names", value.rows(), len(value))
-    if isinstance(value, Moves):
-        return ("moves", value.moves(), len(value))
-    if value and isinstance(value, list) and isinstance(value[0], Zone):
-        return [seen(one) for one in value]
-    return copy.deepcopy(value)
+class MannersTest(Manners, unittest.TestCase):
+    MODULES = [labels, records, zones, answers, namesets, zonenames, moves, allmoves, gaps, allgaps, serials, changes]
+    HELPERS = """answer_from numbers_of_names is_serial data_place record_place key_place each_once datas_in_order sets_of_checked unfolded
+        are_datas is_set""".split()
 
-
-class MannersTest(unittest.TestCase):
-    def test_every_function_is_called(self):
-        found = set([call.__name__ for call, _ in calls()])
-        for module in MODULES:
-            for word, one in vars(module).items():
-                if getattr(one, "__module__", None) == module.__name__ and not word.startswith(("_", "check_")):
-                    if word not in HELPERS:
-                        self.assertIn(word, found)
-
-    def test_by_position_and_by_name(self):
-        for call, arguments in calls():
-            with self.subTest(call=call.__name__):
-                told = seen(call(*arguments.values()))
-                self.assertEqual(told, seen(call(**arguments)))
-                turned = {word: arguments[word] for word in list(arguments)[::-1]}
-                self.assertEqual(told, seen(call(**turned)))
-
-    def test_arguments_stay_as_they_were(self):
-        for call, arguments in calls():
-            with self.subTest(call=call.__name__):
-                ahead = {word: seen(value) for word, value in arguments.items()}
-                call(**arguments)
-                self.assertEqual(ahead, {word: seen(value) for word, value in arguments.items()})
-
-    def test_what_is_passed_is_not_kept(self):
-        for call, arguments in calls():
-            with self.subTest(call=call.__name__):
-                arguments = {word: copy.deepcopy(value) for word, value in arguments.items()}
-                told = call(**arguments)
-                ahead = seen(told)
-                passed = [id(one) for value in arguments.values() for one in lists_in(value)]
-                self.assertEqual([], [one for one in lists_in(told) if id(one) in passed])
-                for value in arguments.values():
-                    spoil(value)
-                self.assertEqual(ahead, seen(told))
-
-    def test_returned_lists_are_new(self):
-        for call, arguments in calls():
-            with self.subTest(call=call.__name__):
-                told = call(**arguments)
-                ahead = seen(told)
-                again = call(**arguments)
-                each = [id(one) for one in lists_in(told) + lists_in(again)]
-                self.assertEqual(len(each), len(set(each)))
-                spoil(told)
-                self.assertEqual(ahead, seen(again))
-                self.assertEqual(ahead, seen(call(**arguments)))
+    def calls(self):
+        return [(call, arguments, []) for call, arguments in calls()]
 
     def test_objects_stay_as_they_were(self):
         zone, names, book = shop_zone(), Names(ROWS), Moves(MOVES)
@@ -242,7 +189,7 @@ class RaisedTest(unittest.TestCase):
                 each = [id(one) for one in lists_in(told)]
                 self.assertEqual(len(each), len(set(each)))
                 self.assertEqual([], [one for one in each if one in passed])
-                spoil(told)
+                spoil_lists(told)
                 self.assertEqual(ahead, value)
 
     def test_others_are_stored_as_they_are(self):
@@ -274,6 +221,3 @@ class RaisedTest(unittest.TestCase):
                     call()
             self.assertEqual(kept, [rows, names, given, ROWS])
 
-
-HELPERS = [
-    "answer_from", "numbers_of_names", "is_serial", "data_place", "record_place", "key_place", "each_once", "datas_in_order", "sets_of_checked", "unfolded"]

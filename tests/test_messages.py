@@ -47,6 +47,7 @@ class MessageTest(unittest.TestCase):
     def test_question(self):
         self.assertEqual((7, ("deep",), 0, [(WWW, "addr")], [], [], []), question(7, WWW, "addr", True))
         self.assertEqual((65535, (), 0, [((), "tree")], [], [], []), question(65535, (), "tree", False))
+        self.assertEqual(0, question(0, (), "tree", False)[0])
         for number in [-1, 65536, 10 ** 59]:
             self.raises(InvalidNumber, number, question, number, WILD, "adr", True)
         for name in NOTHING_AT_ALL + [WILD]:

@@ -26,7 +26,7 @@ BAD = [
     "a mail 1 a b", "a mail 1  a", "a mail 1 *", "a start n 1 2 3 4", "a start n 1 2 3 4 5 6", "a start n 4294967296 2 3 4 5", "a start n 1 2147483648 3 4 5",
     "a start n 1 2 3 4 2147483648", "a start n 1 2 3 4 05", "a start 1 2 3 4 5 n", "a start * 1 2 3 4 5", "a text", "a text x", "a text \"", "a text \"x",
     "a text x\"", "a text \"x\"\"", "a text \"x\" ", "a text \"x\" y", "a text \"\\\"", "a text \"\\\\\\\"", "a text \"\\n\"", "a text \"\"\"", "a text  \"x\"",
-    "a text \"" + "x" * 61 + "\"", "a text 'x'", "a alias", "a tree *", "a back 5 5", "a addr 5\\", "a addr \"5\"", "5", "@", ".", "-"]
+    "a text \"" + "x" * 61 + "\"", "a text 'x'", "a alias", "a tree *", "a back 5 5", "a 5", "foo 5", "ages 5", "zone 5", "origins a", "a addr 5\\", "a addr \"5\"", "5", "@", ".", "-"]
 
 
 def text_of(lines):
