@@ -1,7 +1,7 @@
 """Forwarders: books by which nodes hand questions on, and the routes of all names."""
 
-from rootward.checks import check_plain_name, is_node
-from rootward.errors import InvalidBooks, UnknownNode
+from rootward.checks import check_node, check_plain_name, is_node
+from rootward.errors import InvalidBooks
 from rootward.labels import is_asked
 from rootward.nameparts import ends_with, in_order, place, sized_place
 from rootward.values import is_same, renewed
@@ -34,15 +34,10 @@ def _check_books(books):
         raise InvalidBooks(renewed(books))
 
 
-def _check_node(books, node):
-    if not is_node(node) or node not in books:
-        raise UnknownNode(renewed(node))
-
-
 def route(books, node, name):
     """Return the nodes that a question for a name comes to from a node, and "here" or "ring"."""
     _check_books(books)
-    _check_node(books, node)
+    check_node(books, node)
     check_plain_name(name)
     return _route(books, node, name)
 
@@ -89,7 +84,7 @@ def _is_ring(books, node, name):
 def first_ring(books, node):
     """Return the first name whose route from a node is a ring, None if there is none."""
     _check_books(books)
-    _check_node(books, node)
+    check_node(books, node)
     return min([origin for origin in _origins(books) if _is_ring(books, node, origin)], key=sized_place, default=None)
 
 
@@ -128,8 +123,8 @@ def unlike_routes(books, other_books, node):
     """Return the first name that goes from a node to unlike ends by two books, None if there is none."""
     _check_books(books)
     _check_books(other_books)
-    _check_node(books, node)
-    _check_node(other_books, node)
+    check_node(books, node)
+    check_node(other_books, node)
     origins = _origins(books) + _origins(other_books)
     unlike = [origin for origin in origins if _end(books, node, origin) != _end(other_books, node, origin)]
     return min(unlike, key=sized_place, default=None)

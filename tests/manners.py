@@ -2,6 +2,7 @@
 
 import copy
 
+from rootward.caches import Cache
 from rootward.forests import Forest
 from rootward.moves import Moves
 from rootward.namesets import Names
@@ -41,6 +42,9 @@ def seen(value):
         return ("moves", value.moves(), len(value))
     if isinstance(value, Forest):
         return ("forest", seen(value.zones), value.machines, [value.serves(machine) for machine in value.machines], value.roots)
+    if isinstance(value, Cache):
+        twin = value.twin()
+        return ("cache", twin.policy, twin._now, twin.living(twin._now))
     if isinstance(value, (list, tuple)):
         return (value.__class__, [seen(one) for one in value])
     if isinstance(value, dict):

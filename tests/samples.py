@@ -10,6 +10,9 @@ from rootward.zones import Zone
 class Stranger:
     """An object that is nothing that the package knows."""
 
+    def __deepcopy__(self, memory):
+        return self
+
 
 def nested(make, depth):
     """Return an object in which so many others lie within one another."""

@@ -237,11 +237,59 @@ VIEWS = """
 ['in', [(0, 9, 'in'), (10, 20, 'out'), (21, 4294967295, None)], [(0, 9, 'in'), (10, 20, 'out')], 10]
 """
 
+CACHES = """
+>>> from rootward.caches import Cache, life
+>>> cache = Cache((0, 3600))
+>>> [life((0, 3600), 86400), life((30, 3600), 5), life((30, 3600), 0), cache.put(10, ("absent", ("x", "net"), 20), 1)]
+[3600, 30, 0, True]
+>>> [cache.look(29, ("y", "x", "net"), "addr"), cache.look(30, ("x", "net"), "addr")]
+[('absent', 1), None]
+"""
+
+STALE = """
+>>> from rootward.cacheruns import may_tell, settled
+>>> from rootward.stale import longest_stale, stale_bound
+>>> timeline = [(0, 10, "old"), (100, 10, "new")]
+>>> [may_tell(timeline, (0, 60), 105), may_tell(timeline, (0, 60), 109), settled(timeline, (0, 60)), settled(timeline, (30, 60))]
+[['new', 'old'], ['new'], 109, 129]
+>>> [longest_stale(timeline, (0, 60), 0, 200), longest_stale(timeline, (0, 60), 5, 200), stale_bound(10, (30, 60), 5), stale_bound(10, (0, 60), None)]
+[9, 14, 34, None]
+"""
+
+CHAINS = """
+>>> from rootward.chains import greatest_stale, settled_net, stale_way
+>>> caches = {"a": ((0, 3600), 0, [None]), "b": ((30, 60), 0, ["a"]), "c": ((0, 60), 10, [None, "b"])}
+>>> [[greatest_stale(caches, node, 100) for node in caches], stale_way(caches, "c", 100), settled_net(caches, "c", 100, 7)]
+[[99, 128, 138], ['a', 'b', 'c'], 145]
+>>> [greatest_stale({"a": ((floor, 9), 0, [None, "b"]), "b": ((5, 9), 0, ["a"])}, "b", 9) for floor in [0, 3]]
+[12, None]
+"""
+
+SECONDS = """
+>>> from rootward.seconds import askings, longest_lag, longest_lag_noticed, longest_silence, told_second
+>>> timers = (20, 5, 60)
+>>> [longest_lag(timers, 2), longest_lag(timers, None), longest_silence(timers, 9), longest_lag_noticed(timers, 2)]
+[29, 59, 5, 10]
+>>> history = [(0, timers, "old"), (21, timers, "new")]
+>>> [told_second(history, [], 39), told_second(history, [], 40), askings(history, [20, 25], 60), told_second(history, [20, 25], 30)]
+['old', 'new', [20, 25, 30, 50], 'new']
+"""
+
+SECONDNETS = """
+>>> from rootward.secondnets import longest_life, settled_stands
+>>> seconds = {"a": (60, [None]), "b": (40, ["a"]), "c": (40, ["b", "d"]), "d": (10, ["c"])}
+>>> [longest_life(seconds, node) for node in seconds]
+[59, 98, None, None]
+>>> settled_stands({"a": (9, [None]), "b": (9, ["a"])}, 7, {"a": 5, "b": 5})
+[[('a', 7), ('b', 7)]]
+"""
+
 EXAMPLES = {
     "labels": LABELS, "records": RECORDS, "zones": ZONES, "answers": ANSWERS, "namesets": NAMESETS, "zonenames": ZONENAMES,
     "moves": MOVES, "allmoves": ALLMOVES, "gaps": GAPS, "allgaps": ALLGAPS, "serials": SERIALS, "changes": CHANGES,
     "allchanges": ALLCHANGES, "journals": JOURNALS, "zonetexts": ZONETEXTS, "zonereads": ZONEREADS, "messages": MESSAGES,
-    "wires": WIRES, "wirereads": WIREREADS, "reach": REACH, "views": VIEWS}
+    "wires": WIRES, "wirereads": WIREREADS, "reach": REACH, "views": VIEWS,
+    "caches": CACHES, "stale": STALE, "chains": CHAINS, "seconds": SECONDS, "secondnets": SECONDNETS}
 
 
 class ExamplesTest(unittest.TestCase):

@@ -55,6 +55,22 @@ FUNCTIONS = {
         judge_ranks(books,value) unlike_routes(books,other_books,node)""",
     "views": """view_of(views,machine) idle_views(views) view_ranges(views) unlike_view(views,other_views)
         merged_views(views)""",
+    "caches": "life(policy,age) clash(entry,other)",
+    "cacheruns": """in_force(timeline,moment) staleness(timeline,moment,value) told(timeline,policy,schedule)
+        may_tell(timeline,policy,moment) schedule_for(timeline,policy,moment,value) settled(timeline,policy)""",
+    "stale": """told_silent(timeline,policy,grace,schedule,silence) longest_stale(timeline,policy,grace,until)
+        stale_run(timeline,policy,grace,until) judge_stale_run(timeline,policy,grace,until,value)
+        stale_bound(age,policy,grace) worst_timeline(age,policy,grace)""",
+    "chains": """told_run(caches,timeline,run) greatest_stale(caches,node,age) stale_way(caches,node,age)
+        worst_run(caches,node,age) stale_ranks(caches,age) judge_ranks(caches,age,value) settled_net(caches,node,age,change)""",
+    "torn": """may_tell_whole(story,policy,name,moment) torn(story,policy,name,moment) first_torn(story,policy,name)
+        least_wait(age,new_age,policy)""",
+    "seconds": """told_second(history,lost,moment) askings(history,lost,until) longest_lag(timers,losses)
+        longest_silence(timers,losses) longest_lag_in(history,losses,until) lag_plan(history,losses,until)
+        success_moments(history,losses,until) longest_lag_noticed(timers,losses)""",
+    "secondnets": """tells_until(seconds,run) longest_life(seconds,node) life_run(seconds,node) life_ring(seconds,node)
+        judge_lives(seconds,value) moves_of(seconds,serial,stand) settled_stands(seconds,serial,stand)
+        endless(seconds,serial,stand) judge_endless(seconds,serial,stand,value) comes_to_newest(seconds,serial,stand)""",
 }
 
 METHODS = {
@@ -63,9 +79,13 @@ METHODS = {
     ("namesets", "Names"): "__init__(rows) __len__() __eq__(other) rows() holds(name)",
     ("moves", "Moves"): "__init__(moves) __len__() __eq__(other) moves()",
     ("forests", "Forest"): "__init__(zones,serves,roots) __eq__(other) zone(apex) serves(machine)",
+    ("caches", "Cache"): """__init__(policy) __eq__(other) put(moment,entry,rank) look(moment,name,kind) living(moment) drop(name)
+        undo() twin()""",
 }
 
-PROPERTIES = {("zones", "Zone"): ["apex", "serial", "absent_age"], ("forests", "Forest"): ["zones", "machines", "roots"]}
+PROPERTIES = {
+    ("zones", "Zone"): ["apex", "serial", "absent_age"], ("forests", "Forest"): ["zones", "machines", "roots"],
+    ("caches", "Cache"): ["policy"]}
 
 
 def told(function, skipped):
