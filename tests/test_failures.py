@@ -1,5 +1,6 @@
 """Least sets of machines that keep or stop zones, and stop trees."""
 
+import sys
 import unittest
 from itertools import combinations
 
@@ -152,6 +153,106 @@ class StopTreeTest(unittest.TestCase):
             self.assertFalse(self.judged((machines, [(0, value), second])))
             self.assertFalse(self.judged((machines, [(value, first[1]), second])))
             self.assertEqual(value is None, self.judged(value, 0))
+
+
+def with_idle(forest, idle):
+    """A forest with some machines more that serve no zone, or one to which no server leads."""
+    served = {machine: forest.serves(machine) for machine in forest.machines}
+    return Forest(forest.zones, {**served, **{machine: [] for machine in idle}}, forest.roots)
+
+
+def deep_forest():
+    """Eight zones, one below the other, each with one server, whose glue has five addresses that serve all zones."""
+    apexes = [tuple(["z%d" % at for at in range(deep)][::-1]) for deep in range(8)]
+    zones = []
+    for apex, below in zip(apexes, apexes[1:] + [None]):
+        glue = [] if below is None else [(below, "server", 9, ("n",) + below)] + [(("n",) + below, "addr", 9, machine) for machine in range(1, 6)]
+        zones.append(zone_of(apex, ("n",) + apex, glue))
+    return Forest(zones, {machine: apexes for machine in range(1, 6)}, [1, 2, 3, 4, 5])
+
+
+def calls_of(call, *arguments):
+    """The number of calls of functions that a call makes."""
+    found = [0]
+
+    def count(frame, event, told):
+        found[0] += event in ("call", "c_call")
+    sys.setprofile(count)
+    try:
+        call(*arguments)
+    finally:
+        sys.setprofile(None)
+    return found[0]
+
+
+class IdleTest(unittest.TestCase):
+    """Machines that make no way to a zone."""
+
+    def told(self, forest, apex):
+        return [keeping(forest, apex), stopping(forest, apex), fewest_to_stop(forest, apex), stop_tree(forest, apex), [safe_against(forest, apex, count) for count in range(4)]]
+
+    def test_machine_by_machine(self):
+        for forest in [shop_forest(), random_forest(3), random_forest(8), wide_forest(2, 3), Forest(shop_zones(), {1: [()], 2: [NET], 3: [SHOP]}, [1])]:
+            wanted = {zone.apex: self.told(forest, zone.apex) for zone in forest.zones}
+            others = [machine for machine in [0, 4, 5, 50, 150, 250, 350, 2 ** 32 - 1, 60, 70, 80, 90] if machine not in forest.machines]
+            for many in range(13 - len(forest.machines)):
+                idle = with_idle(forest, others[:many])
+                for apex, told in wanted.items():
+                    # An address of the forest may be one of the machines that come, but they serve nothing.
+                    self.assertEqual(told, self.told(idle, apex))
+                    self.assertEqual(len(told[1][0]) > 0, judge_stop_tree(idle, apex, len(told[1][0]), told[3]) and told[3] is not None)
+
+    def test_machines_that_serve_where_nobody_asks_them(self):
+        forest = Forest(shop_zones(), {1: [()], 2: [NET, ORG], 3: [SHOP], 7: [(), NET, ORG, SHOP], 0: [()]}, [1])
+        for apex in [(), NET, ORG, SHOP]:
+            self.assertEqual(self.told(shop_forest(), apex), self.told(forest, apex))
+
+    def test_trees_with_idle_machines(self):
+        forest = with_idle(wide_forest(2, 2), [7, 50])
+        apex = ("z",)
+        inner = [([1, 100], [(1, None), (100, None)]), ([0, 101], [(0, None), (101, None)])]
+        good = ([0, 100], [(0, inner[0]), (100, inner[1])])
+        more = ([0, 7, 50, 100], [(0, inner[0]), (7, ([0, 50, 100], [(0, None), (50, None), (100, None)])), (50, ([0, 101], [(0, None), (101, None)])), (100, inner[1])])
+        self.assertEqual([True, True], [judge_stop_tree(forest, apex, 2, tree) for tree in [good, more]])
+        machines, branches = more
+        wrong = [([0, 7, 100], branches[:2]), ([0, 7, 50, 99, 100], branches[:3] + [(99, inner[0])] + branches[3:]), ([0, 7, 50], branches[:3]), ([7, 50], branches[1:3]), (machines, branches[:1] + branches[2:]),
+                 (machines, [branches[0], (7, ([0, 7, 100], [(0, None), (7, None), (100, None)]))] + branches[2:]), (machines, [branches[0], (7, None)] + branches[2:]), ([7, 0, 50, 100], branches)]
+        for tree in wrong:
+            self.assertFalse(judge_stop_tree(forest, apex, 2, tree))
+        for machine in [7, 50, 8]:
+            tree = (sorted([0, 100, machine]), sorted([(0, inner[0]), (100, inner[1]), (machine, good)], key=lambda row: row[0]))
+            self.assertEqual(machine != 8, judge_stop_tree(forest, apex, 2, (tree[0], [(one, row if one != machine else ([0, 100], [(0, None), (100, None)])) for one, row in tree[1]])))
+
+    def test_thirteen_machines(self):
+        root = Forest([zone_of((), ("ns",), [])], {machine: [()] if machine == 5 else [] for machine in range(13)}, [5])
+        for call in [keeping, stopping, fewest_to_stop, stop_tree, lambda one, apex: safe_against(one, apex, 0), lambda one, apex: judge_stop_tree(one, apex, 0, None)]:
+            with self.assertRaises(TooMany) as caught:
+                call(root, ())
+            self.assertEqual(13, caught.exception.value)
+        twelve = Forest(root.zones, {machine: root.serves(machine) for machine in range(12)}, [5])
+        self.assertEqual([[[5]], [[5]]], [keeping(twelve, ()), stopping(twelve, ())])
+
+    def test_against_all_sets(self):
+        for seed in range(25):
+            LeastSetsTest.check(self, with_idle(random_forest(seed, machines=4), [0, 6, 7]))
+
+    check_facts = LeastSetsTest.check_facts
+
+    def test_idle_machines_cost_nothing(self):
+        forest = deep_forest()
+        more, apex = with_idle(forest, range(6, 13)), forest.zones[-1].apex
+        tree = stop_tree(forest, apex)
+        self.assertEqual([self.told(forest, apex), True], [self.told(more, apex), judge_stop_tree(more, apex, 5, tree)])
+        for call, arguments in [(keeping, []), (stopping, []), (fewest_to_stop, []), (stop_tree, []), (safe_against, [3]), (judge_stop_tree, [0, None]), (judge_stop_tree, [5, tree])]:
+            self.assertLess(calls_of(call, more, apex, *arguments), calls_of(call, forest, apex, *arguments) * 3 // 2)
+
+    def test_one_tree_is_judged_by_its_own_sets(self):
+        wide = wide_forest(4, 3)
+        apex = ("z", "z")
+        # All sets of twelve machines would be 4,096.
+        self.assertLess(calls_of(judge_stop_tree, wide, apex, 0, None), 2500)
+        self.assertLess(calls_of(judge_stop_tree, wide, apex, 1, ([0, 100, 200], [(0, None), (100, None), (200, None)])), 2500)
+        self.assertTrue(judge_stop_tree(wide, apex, 1, ([0, 100, 200], [(0, None), (100, None), (200, None)])))
 
 
 class ErrorsTest(unittest.TestCase):
