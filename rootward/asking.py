@@ -29,7 +29,7 @@ class Asker:
         """Return how an asking ends; begun: the names with which all askings were begun that have not ended."""
         ages = []
         for _ in range(MOST_NAMES):
-            told = self._walked(name, kind, begun)
+            told = self.walked(name, kind, begun)
             if told[0] in ("failed", "broken"):
                 return told
             ages.append(told[1])
@@ -38,7 +38,7 @@ class Asker:
             name = told[-1]
         return ("long",)
 
-    def _walked(self, name, kind, begun):
+    def walked(self, name, kind, begun):
         """Return what is told of a name behind all cuts on the way from the root."""
         apex = ()
         machine = self._first_telling(self._roots, apex)

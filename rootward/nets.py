@@ -1,6 +1,6 @@
 """Nets: nodes that ask one another, each told with the list of its ups, None among these for the source."""
 
-from rootward.checks import is_node
+from rootward.checks import is_node, is_policy
 
 
 def are_nodes(value):
@@ -43,3 +43,20 @@ def shortest_list(ups, begins, node):
                 lists.append([up] + row)
         at += 1
     return None
+
+
+def are_resolvers(value):
+    """Return whether any object is a net of resolvers."""
+    return are_nodes(value) and all([_is_resolver(row, value, node) for node, row in value.items()])
+
+
+def _is_resolver(value, net, node):
+    """Return whether any object is what a net of resolvers can have for a node."""
+    if not isinstance(value, tuple) or len(value) != 2 or not is_policy(value[0]):
+        return False
+    ups = value[1]
+    if not isinstance(ups, list) or len(ups) == 0:
+        return False
+    if not all([up is None or (is_node(up) and up in net and up != node) for up in ups]):
+        return False
+    return len({up: True for up in ups}) == len(ups)

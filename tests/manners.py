@@ -6,6 +6,7 @@ from rootward.caches import Cache
 from rootward.forests import Forest
 from rootward.moves import Moves
 from rootward.namesets import Names
+from rootward.worlds import World
 from rootward.zones import Zone
 
 
@@ -45,6 +46,9 @@ def seen(value):
     if isinstance(value, Cache):
         twin = value.twin()
         return ("cache", twin.policy, twin._now, twin.living(twin._now))
+    if isinstance(value, World):
+        held = {node: value.held(node) for node in value.resolvers()}
+        return ("world", value.clock, value.up, seen(value.forest), seen(value.deeds), value.depth, value.resolvers(), held)
     if isinstance(value, (list, tuple)):
         return (value.__class__, [seen(one) for one in value])
     if isinstance(value, dict):

@@ -23,14 +23,14 @@ def tells(entry, name, kind):
     return (word,) if under(name, entry[1]) else None
 
 
-def questions_of(entry):
-    """The questions that an entry answers, of those with small names."""
-    return [question for question in QUESTIONS if tells(entry, *question) is not None]
+def questions_of(entry, questions=QUESTIONS):
+    """The questions that an entry answers, of some, those with small names if no others are told."""
+    return [question for question in questions if tells(entry, *question) is not None]
 
 
-def do_clash(entry, other):
-    """Whether two entries with small names clash."""
-    both = [question for question in questions_of(entry) if question in questions_of(other)]
+def do_clash(entry, other, questions=QUESTIONS):
+    """Whether two entries with small names, or such as some questions have, clash."""
+    both = [question for question in questions if tells(entry, *question) is not None and tells(other, *question) is not None]
     return any([tells(entry, *question) != tells(other, *question) for question in both])
 
 

@@ -71,6 +71,12 @@ FUNCTIONS = {
     "secondnets": """tells_until(seconds,run) longest_life(seconds,node) life_run(seconds,node) life_ring(seconds,node)
         judge_lives(seconds,value) moves_of(seconds,serial,stand) settled_stands(seconds,serial,stand)
         endless(seconds,serial,stand) judge_endless(seconds,serial,stand,value) comes_to_newest(seconds,serial,stand)""",
+    "transfers": "pieces(load,size) zone_behind(zone,load)",
+    "questions": "tries(search,name) unlike_tries(search,other_search) asked_for(search,forest,name,kind)",
+    "worldruns": """played(world,script) same_answers(world,other_world,script) first_stale(world,script)
+        age_limit(world)""",
+    "worldtexts": "show_forest(forest) show_resolvers(resolvers) show_deeds(deeds)",
+    "worldreads": "read_forest(text) read_resolvers(text) read_deeds(text)",
 }
 
 METHODS = {
@@ -81,11 +87,15 @@ METHODS = {
     ("forests", "Forest"): "__init__(zones,serves,roots) __eq__(other) zone(apex) serves(machine)",
     ("caches", "Cache"): """__init__(policy) __eq__(other) put(moment,entry,rank) look(moment,name,kind) living(moment) drop(name)
         undo() twin()""",
+    ("transfers", "Gathered"): "__init__() __len__() __eq__(other) take(piece) lacking() load() undo()",
+    ("worlds", "World"): """__init__(forest,resolvers) __len__() __eq__(other) wait(count) change(zone) stop(machine)
+        start_again(machine) ask(node,name,kind) undo() begin() keep() drop() twin() held(node) plainly(name,kind)""",
+    ("desk", "Desk"): "__init__() execute(line)",
 }
 
 PROPERTIES = {
     ("zones", "Zone"): ["apex", "serial", "absent_age"], ("forests", "Forest"): ["zones", "machines", "roots"],
-    ("caches", "Cache"): ["policy"]}
+    ("caches", "Cache"): ["policy"], ("worlds", "World"): ["clock", "forest", "up", "deeds", "depth"]}
 
 
 def told(function, skipped):
