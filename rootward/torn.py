@@ -51,8 +51,12 @@ def torn(story, policy, name, moment):
 
 def _torn(story, policy, name, moment):
     changes = [change for change in _changes(story) if change <= moment]
-    return [pairs for pairs in _whole(story, policy, name, moment)
-            if not any([_were_together(story, pairs, change) for change in changes])]
+    in_force = {}
+    for at, change in enumerate(changes):
+        for part, timeline in story.items():
+            pair = (part, force_at(timeline, change)[2])
+            in_force[pair] = in_force.get(pair, 0) | 1 << at
+    return [pairs for pairs in _whole(story, policy, name, moment) if not _were_together(in_force, pairs)]
 
 
 def _changes(story):
@@ -60,16 +64,22 @@ def _changes(story):
     return sorted({row[0]: True for timeline in story.values() for row in timeline})
 
 
-def _were_together(story, pairs, moment):
-    return all([force_at(story[name], moment)[2] == value for name, value in pairs])
+def _were_together(in_force, pairs):
+    """Return whether all pairs have a bit in common; in_force: to pairs a bit for each change behind which they are."""
+    bits = in_force[pairs[0]]
+    for pair in pairs:
+        bits = bits & in_force[pair]
+    return bits > 0
 
 
 def first_torn(story, policy, name):
     """Return the first moment at which a torn list may be told, None if there is none."""
     _check(story, policy, name)
     # Between two changes values only cease to be told.
-    found = [moment for moment in _changes(story) if len(_torn(story, policy, name, moment)) > 0]
-    return min(found, default=None)
+    for moment in _changes(story):
+        if len(_torn(story, policy, name, moment)) > 0:
+            return moment
+    return None
 
 
 def least_wait(age, new_age, policy):
