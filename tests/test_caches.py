@@ -11,7 +11,7 @@ from tests.samples import NOTHING_AT_ALL, Stranger, nested
 
 NET, A, BA, B = ("net",), ("a",), ("b", "a"), ("b",)
 NO_POLICIES = [one for one in NOTHING_AT_ALL if one != (1, 2)] + [
-    (1, 0), (0, 0), (-1, 5), (0, 5, 6), [0, 5], (True, 5), (0, True), ("0", 5), (5, None), (None, 5), {0: 5}]
+    (1, 0), (0, 0), (6, 5), (2, 1), (-1, 5), (0, 5, 6), [0, 5], (True, 5), (0, True), ("0", 5), (5, None), (None, 5), {0: 5}]
 NO_MOMENTS = [one for one in NOTHING_AT_ALL if one != 2 ** 32]
 NO_NUMBERS = NO_MOMENTS
 
