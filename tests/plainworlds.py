@@ -94,7 +94,7 @@ class PlainWorld:
     def goes(self, old, new):
         """Whether an entry goes as a new one comes in."""
         questions = [(name, kind) for name in [old[1], new[1]] for kind in KINDS]
-        scopes = [(entry[1], entry[2] if entry[0] in ("found", "empty") else entry[0]) for entry in (old, new)]
+        scopes = [(entry[1], ("kind", entry[2]) if entry[0] in ("found", "empty") else entry[0]) for entry in (old, new)]
         return do_clash(old, new, questions) or scopes[0] == scopes[1]
 
     def held(self, node):
