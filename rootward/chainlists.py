@@ -23,6 +23,7 @@ class Lists:
         self._grace = {node: row[1] if age > 0 else 0 for node, row in caches.items()}
         self._first = {node: first_of(row, age) for node, row in caches.items()}
         self._more = {node: more_of(row) if age > 0 else 0 for node, row in caches.items()}
+        self._is_fresh = age == 0
         self._leading = led_to(self._ups)
         self._stalest = {}
 
@@ -34,6 +35,8 @@ class Lists:
 
     def stalest_list(self, node):
         """Return a list of nodes to this one along which the greatest comes about."""
+        if self._is_fresh:
+            return shortest_list(self._ups, [other for other in self._ups if None in self._ups[other]], node)
         ring = self._ring(node)
         _, ahead, entry = self._best(ring)
         begin = [] if ahead is None else self.stalest_list(ahead)

@@ -164,6 +164,7 @@ class GreatestTest(unittest.TestCase):
         net = {"a": ((0, 9), 0, [None]), "b": ((0, 9), None, ["a"]), "x": ((5, 9), 3, ["y"]), "y": ((5, 9), None, ["x"]), "c": ((2, 9), 1, ["a", "x"])}
         self.assertEqual({"a": 8, "b": None, "x": 0, "y": 0, "c": 10}, stale_ranks(net, 9))
         self.assertEqual([None, None, ["a", "c"]], [stale_way(net, "x", 9), worst_run(net, "y", 9), stale_way(net, "c", 9)])
+        self.assertEqual([["a"], ["a", "c"]], [stale_way(net, node, 0) for node in "ac"])
         self.assertEqual([5, 5, None], [settled_net(net, "x", 9, 5), settled_net(net, "c", 0, 5), settled_net(net, "b", 1, 5)])
 
     def check(self, net, age, horizon=12):
