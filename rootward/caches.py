@@ -37,7 +37,7 @@ class Cache:
         self._floor, self._ceiling = policy
         self._now = 0
         self._held = []
-        # The entries ahead of each put that came in and each drop that dropped something; no such list is changed.
+        # What each put that came in and each drop that dropped something took out and put in.
         self._past = []
 
     def __eq__(self, other):
@@ -58,11 +58,10 @@ class Cache:
             raise InvalidNumber(renewed(rank))
         self._now = moment
         lasting = life_under(self.policy, age_of(entry))
-        living = self._living()
-        going = [row for row in living if entries_clash(row[0], entry) or same_questions(row[0], entry)]
+        going = [row for row in self._living() if entries_clash(row[0], entry) or same_questions(row[0], entry)]
         if lasting == 0 or any([other_rank > rank for _, other_rank, _ in going]):
             return False
-        self._become([row for row in living if row not in going] + [(entry, rank, moment + lasting)])
+        self._exchange(going, [(entry, rank, moment + lasting)])
         return True
 
     def look(self, moment, name, kind):
@@ -86,24 +85,24 @@ class Cache:
     def drop(self, name):
         """Let all living entries at or below a name go; return their number."""
         check_plain_name(name)
-        living = self._living()
-        left = [row for row in living if not ends_with(row[0][1], name)]
-        if len(left) < len(living):
-            self._become(left)
-        return len(living) - len(left)
+        going = [row for row in self._living() if ends_with(row[0][1], name)]
+        if len(going) > 0:
+            self._exchange(going, [])
+        return len(going)
 
     def undo(self):
         """Take back the last put that came in or drop that dropped something; the clock stays."""
         if len(self._past) == 0:
             raise Nothing(None)
-        self._held = self._past.pop()
+        taken, added = self._past.pop()
+        self._held = [row for row in self._held if row not in added] + list(taken)
 
     def twin(self):
         """Return a cache with the same past."""
         other = Cache(self.policy)
         other._now = self._now
         other._held = list(self._held)
-        other._past = [list(rows) for rows in self._past]
+        other._past = list(self._past)
         return other
 
     def _check_moment(self, moment):
@@ -116,9 +115,10 @@ class Cache:
         """Return the tuples of the living entries, in order."""
         return sorted([row for row in self._held if row[2] > self._now], key=_row_place)
 
-    def _become(self, rows):
-        self._past.append(self._held)
-        self._held = rows
+    def _exchange(self, taken, added):
+        self._past.append((tuple(taken), tuple(added)))
+        # What no longer lives never does so again, as the clock does not go back.
+        self._held = [row for row in self._living() if row not in taken] + added
 
 
 def _row_place(row):

@@ -220,6 +220,16 @@ class CacheTest(unittest.TestCase):
         with self.assertRaises(Nothing):
             cache.undo()
 
+    def test_undo_of_the_same_once_more(self):
+        cache = Cache((0, 100))
+        for _ in range(3):
+            self.assertTrue(cache.put(5, ("absent", A, 5), 3))
+        for _ in range(2):
+            cache.undo()
+            self.assertEqual([(("absent", A, 5), 3, 10)], cache.living(5))
+        cache.undo()
+        self.assertEqual([], cache.living(5))
+
     def test_equality(self):
         one, other = Cache((0, 100)), Cache((0, 100))
         self.assertEqual(one, other)
