@@ -152,7 +152,8 @@ class ResolverLines:
     def lacking(self, ended):
         """Return the number of the line that cannot stand there as no more come, None if all are there."""
         ups = [up for _, row in self.told_nodes.values() for up in row if up is not None]
-        return None if len(ups + list(self.told_nodes)) > 0 and all([up in self.told_nodes for up in ups]) else ended
+        is_whole = len(self.told_nodes) > 0 and all([up in self.told_nodes for up in ups])
+        return None if is_whole else ended
 
     def _take_node(self, words):
         if words[0] != "node" or len(words) < 5 or not is_node(words[1]):
